@@ -1,0 +1,233 @@
+"""What the tests share: any values, all small rows, walks and houses, and calls of every function."""
+
+from itertools import combinations, permutations, product
+
+from ropesheld import closed, errors, folds, forms, homes, houses, parting, pulled, pushes, rows, walks, wishes
+from ropesheld.houses import House
+
+MODULES = (rows, walks, pushes, houses, parting, homes, forms, folds, pulled, wishes, closed)
+SIGNS = "aAbBcCdDeEfFgGhH"
+HOUSE = House([[1, 2, 0], [0, 2, 1]])
+
+# Any values that are no strings, of all kinds and nested.
+NO_STRINGS = (
+    None, 0, 1, -1, 7, True, False, (), [], ("a",), ["a"], ["a", "b"], ("ab", ("ab",)), [[], [[]], [None]],
+    ((((((("a",),),),),),),), HOUSE, [HOUSE], (HOUSE, 0), ("", ""), (0, 1), [True],
+)
+
+
+def all_rows(posts, length):
+    """All rows of so many posts up to a length, in order."""
+    signs = SIGNS[:2 * posts]
+    return ["".join(letters) for many in range(length + 1) for letters in product(signs, repeat=many)]
+
+
+def reduced_rows(posts, length):
+    """All reduced rows of so many posts up to a length, in order."""
+    return [row for row in all_rows(posts, length) if is_plain(row)]
+
+
+def is_plain(row):
+    """Whether no sign stands beside its other one."""
+    return all(one != other.swapcase() for one, other in zip(row, row[1:]))
+
+
+def taken_out(row):
+    """The row that is left when signs beside their other ones are taken out again and again, post by post."""
+    while not is_plain(row):
+        for sign in SIGNS:
+            row = row.replace(sign + sign.swapcase(), "")
+    return row
+
+
+def turned(row):
+    """The row read backwards, each sign as its other one."""
+    return "".join(reversed(row)).swapcase()
+
+
+def order(row):
+    """The order of rows: by length, then sign by sign."""
+    return len(row), [SIGNS.index(sign) for sign in row]
+
+
+def all_walks(length):
+    """All walks up to a length."""
+    return ["".join(steps) for many in range(length + 1) for steps in product("nesw", repeat=many)]
+
+
+def all_houses(posts, things):
+    """All houses of so many posts and things."""
+    return [House(swaps) for swaps in product(permutations(range(things)), repeat=posts)]
+
+
+def all_lots(posts):
+    """All lots of a board, shorter ones first, of one length ascending."""
+    return ["".join(lot) for many in range(posts + 1) for lot in combinations("abcdefgh"[:posts], many)]
+
+
+def all_wishes(posts):
+    """All wishes of a board."""
+    found = [()]
+    for lot in all_lots(posts):
+        found += [wish + (lot,) for wish in found if not any(set(less) <= set(lot) for less in wish)]
+    return found[1:]
+
+
+def least(lots):
+    """The least ones of some lots, in order."""
+    kept = {lot for lot in lots if not any(set(less) < set(lot) for less in lots)}
+    return tuple(sorted(kept, key=lambda lot: (len(lot), lot)))
+
+
+def draws(seed):
+    """A function that draws numbers below its argument, always the same ones for a seed."""
+    state = [seed]
+
+    def drawn(below):
+        state[0] = (state[0] * 6364136223846793005 + 1442695040888963407) & (2 ** 64 - 1)
+        return (state[0] >> 33) * below >> 31
+
+    return drawn
+
+
+def drawn_row(drawn, posts, length):
+    """Some row of just so many signs."""
+    return "".join(SIGNS[drawn(2 * posts)] for _ in range(length))
+
+
+def drawn_walk(drawn, length):
+    """Some walk of just so many steps."""
+    return "".join("nesw"[drawn(4)] for _ in range(length))
+
+
+def drawn_swap(drawn, things):
+    """Some swap of so many things."""
+    swap = list(range(things))
+    for at in range(things - 1, 0, -1):
+        other = drawn(at + 1)
+        swap[at], swap[other] = swap[other], swap[at]
+    return swap
+
+
+def drawn_house(drawn, posts, things):
+    """Some house."""
+    return House([drawn_swap(drawn, things) for _ in range(posts)])
+
+
+def no_rows(posts):
+    """Pairs of a value that is no row of so many posts, and the number of the first thing in it that is no sign."""
+    found = [(value, 0) for value in NO_STRINGS]
+    found += [("1", 0), (" ", 0), ("i", 0), ("-a", 0), ("aA1", 2), ("a-1", 1)]
+    found += [("aA\n", 2), ("a a", 1), ("aA" * 50 + "?", 100), ("aaiaa", 2), ("aI", 1), ("a\u00e4", 1), ("\u0430", 0)]
+    if posts < 8:
+        later = SIGNS[2 * posts:]
+        found += [("aA" + later[0], 2), (later[1] + "a", 0), ("a" + later[-1], 1)]
+    return found
+
+
+NO_WALKS = [(value, 0) for value in NO_STRINGS] + [
+    ("N", 0), ("a", 0), ("nesw ", 4), ("nes\n", 3), ("n" * 40 + "x", 40), ("nEsw", 1), ("n\u00e9", 1)]
+
+# No wishes of a board with two posts.
+NO_WISHES = [value for value in NO_STRINGS if value != ("a",)] + [
+    "", "a", ["a"], ("b", "a"), ("a", "a"), ("a", "ab"), ("", "a"), ("ba",), ("aa",), ("A",), ("c",), ("ac",),
+    ("a", "c"),
+    ("ab", "a"), ("a", None), ("a", 1), (("a",),), ("a", ["b"]), ("a ",), ("i",)]
+
+# Each function with arguments by name, in order, and the names of those that may be wrong rows, walks or wishes.
+CALLS = {
+    "reduced": ({"row": "abBa"}, {"row": 8}),
+    "is_reduced": ({"row": "abBa"}, {"row": 8}),
+    "turned": ({"row": "aab"}, {"row": 8}),
+    "joined": ({"rows": ("ab", "BA", "b")}, {}),
+    "times": ({"row": "abA", "many": 3}, {"row": 8}),
+    "core": ({"row": "abbaBA"}, {"row": 8}),
+    "windings": ({"row": "abAB", "posts": 2}, {"row": 2}),
+    "without": ({"row": "abcAB", "lot": "ac"}, {"row": 8}),
+    "alike": ({"one": "aAb", "other": "bcC"}, {"one": 8, "other": 8}),
+    "chain": ({"one": "aAb", "other": "b"}, {"one": 8, "other": 8}),
+    "chain_holds": ({"one": "aAb", "other": "b", "value": ("aAb", "b")}, {"one": 8, "other": 8}),
+    "points": ({"walk": "se"}, {"walk": "walk"}),
+    "end": ({"walk": "sse"}, {"walk": "walk"}),
+    "back": ({"walk": "sse"}, {"walk": "walk"}),
+    "crossing_row": ({"walk": "sseenwnw", "posts": 2}, {"walk": "walk"}),
+    "walk_of": ({"row": "bA"}, {"row": 8}),
+    "plain_walk": ({"walk": "sseenwnw", "posts": 2}, {"walk": "walk"}),
+    "land": ({"walk": "senw"}, {"walk": "walk"}),
+    "meetings": ({"walk": "senw"}, {"walk": "walk"}),
+    "alike_walks": ({"one": "seen", "other": "seenns", "posts": 2}, {"one": "walk", "other": "walk"}),
+    "push_chain": ({"one": "ne", "other": "en", "posts": 2}, {"one": "walk", "other": "walk"}),
+    "push_chain_holds": (
+        {"one": "ne", "other": "en", "posts": 1, "value": ("ne", "en")}, {"one": "walk", "other": "walk"}),
+    "led_to": ({"house": HOUSE, "thing": 0, "row": "ab"}, {"row": 2}),
+    "swap_of": ({"house": HOUSE, "row": "ab"}, {"row": 2}),
+    "is_still": ({"house": HOUSE, "row": "ab"}, {"row": 2}),
+    "swap_rounds": ({"house": HOUSE, "row": "ab"}, {"row": 2}),
+    "swap_order": ({"house": HOUSE, "row": "a"}, {"row": 2}),
+    "orbits": ({"house": HOUSE}, {}),
+    "beside": ({"one": HOUSE, "other": House([[0], [0]])}, {}),
+    "paired": ({"one": HOUSE, "other": House([[1, 0], [0, 1]])}, {}),
+    "stilled": ({"house": HOUSE, "pulled": "a"}, {}),
+    "parting": ({"posts": 2, "one": "ab", "other": "ba"}, {"one": 2, "other": 2}),
+    "parting_holds": ({"one": "a", "other": "b", "value": (HOUSE, 0)}, {"one": 8, "other": 8}),
+    "house_ways": ({"house": HOUSE, "thing": 1}, {}),
+    "way": ({"house": HOUSE, "thing": 0, "goal": 2}, {}),
+    "home_rows": ({"house": HOUSE, "thing": 1}, {}),
+    "home_told": ({"house": HOUSE, "thing": 0, "row": "aabA"}, {"row": 2}),
+    "home_joined": ({"house": HOUSE, "thing": 0, "told": ((1, 1), (3, 1))}, {}),
+    "house_form": ({"house": HOUSE, "thing": 2}, {}),
+    "same_home": ({"one": HOUSE, "thing": 0, "other": HOUSE, "spot": 1}, {}),
+    "parting_row": ({"one": HOUSE, "thing": 0, "other": HOUSE, "spot": 1}, {}),
+    "forms": ({"posts": 2, "things": 3}, {}),
+    "many_forms": ({"posts": 2, "things": 3}, {}),
+    "folds": ({"house": HOUSE}, {}),
+    "fold_holds": ({"house": HOUSE, "value": (0, 1, 2)}, {}),
+    "folded": ({"house": House([[1, 2, 3, 0]]), "fold": (0, 1, 0, 1)}, {}),
+    "falls": ({"row": "abAB", "lot": "a"}, {"row": 8}),
+    "falling": ({"row": "abAB", "posts": 3}, {"row": 3}),
+    "holding": ({"row": "abAB", "posts": 3}, {"row": 3}),
+    "needed": ({"row": "aab", "posts": 2}, {"row": 2}),
+    "spared": ({"row": "abAB", "posts": 3}, {"row": 3}),
+    "falls_at": ({"row": "aab", "order": "ba", "posts": 2}, {"row": 2}),
+    "sure_for": ({"row": "abAB", "posts": 3}, {"row": 3}),
+    "wish_of": ({"lots": ("ab", "c", "abc"), "posts": 3}, {}),
+    "asks": ({"wish": ("c", "ab"), "lot": "bc"}, {}),
+    "either": ({"one": ("a",), "other": ("b",), "posts": 2}, {"one": "wish", "other": "wish"}),
+    "both": ({"one": ("a",), "other": ("a", "b"), "posts": 2}, {"one": "wish", "other": "wish"}),
+    "any_of": ({"posts": 3, "many": 2}, {}),
+    "bars": ({"wish": ("a", "b"), "posts": 2}, {"wish": "wish"}),
+    "rope_for": ({"wish": ("a", "b"), "posts": 2}, {"wish": "wish"}),
+    "keeps_wish": ({"row": "abAB", "wish": ("a", "b"), "posts": 2}, {"row": 2, "wish": "wish"}),
+    "together": ({"one": "abAB", "other": "ba", "posts": 2}, {"one": 2, "other": 2}),
+    "turns": ({"row": "abAB"}, {"row": 8}),
+    "least_turn": ({"row": "abAB"}, {"row": 8}),
+    "same_closed": ({"one": "baa", "other": "aab"}, {"one": 8, "other": 8}),
+    "some_arm": ({"one": "baa", "other": "aab"}, {"one": 8, "other": 8}),
+    "arm_holds": ({"one": "baa", "other": "aab", "value": "b"}, {"one": 8, "other": 8}),
+    "least_arm": ({"one": "baa", "other": "aab"}, {"one": 8, "other": 8}),
+    "root": ({"row": "aabaab"}, {"row": 8}),
+    "nth_part": ({"row": "abab", "many": 2}, {"row": 8}),
+    "commute": ({"one": "ab", "other": "abab"}, {"one": 8, "other": 8}),
+    "shared_root": ({"one": "aab", "other": "BAA"}, {"one": 8, "other": 8}),
+    "shared_power": ({"one": "aab", "other": "BAABAA"}, {"one": 8, "other": 8}),
+    "arm_for_all": ({"ones": ("baa", "b"), "others": ("aab", "b")}, {}),
+    "all_hold": ({"ones": ("baa", "b"), "others": ("aab", "b"), "value": "b"}, {}),
+    "agree": ({"one": "aab", "other": "ab"}, {"one": 8, "other": 8}),
+}
+
+
+def function_of(name):
+    """The function of the package with a name."""
+    for module in MODULES:
+        if name in vars(module) and vars(module)[name].__module__ == module.__name__:
+            return vars(module)[name]
+    raise LookupError(name)
+
+
+def wrongs_of(kind):
+    """Pairs of a wrong value of a kind and the error that it raises, with what this keeps."""
+    if kind == "walk":
+        return [(value, errors.InvalidWalk, at) for value, at in NO_WALKS]
+    if kind == "wish":
+        return [(value, errors.InvalidWish, 0) for value in NO_WISHES]
+    return [(value, errors.InvalidRow, at) for value, at in no_rows(kind)]
