@@ -42,9 +42,9 @@ def first_no_swap(swaps):
 
 def is_swap(value, things):
     """Whether any value tells for each of so many things (at least one) where it goes, one to one."""
-    if not is_sequence(value) or len(value) != things or things == 0:
+    if not is_sequence(value) or things == 0 or not all([is_number(goal) for goal in value]):
         return False
-    return all([is_number(goal) for goal in value]) and sorted(value) == list(range(things))
+    return sorted(value) == list(range(things))
 
 
 def swaps_by_sign(swaps):

@@ -47,7 +47,6 @@ def back(walk):
 
 def crossing_row(walk, posts):
     """The row of all signs that a walk writes on a board of so many posts."""
-    check_walk(walk)
     row = []
     for (x, y), step in zip(points(walk), walk):
         post = passed_post(x, step)

@@ -6,7 +6,7 @@ from itertools import permutations
 from ropesheld.errors import InvalidRow, InvalidWish
 from ropesheld.pulled import falling, falls, falls_at, holding, needed, spared, sure_for
 from ropesheld.rows import without
-from ropesheld.wishes import any_of, asks, bars, both, either, keeps_wish, rope_for, together, wish_of
+from ropesheld.wishes import any_of, asks, bars, both, crossed, either, keeps_wish, rope_for, together, wish_of
 from tests.support import (
     NO_STRINGS, NO_WISHES, all_lots, all_rows, all_wishes, draws, drawn_row, least, reduced_rows, taken_out)
 
@@ -37,6 +37,15 @@ class TestPulled(unittest.TestCase):
                 greatest = [lot for lot in held if not any(set(lot) < set(more) for more in held)]
                 self.assertEqual(falling(row, posts), least(fallen))
                 self.assertEqual(holding(row, posts), tuple(sorted(greatest, key=lambda lot: (-len(lot), lot))))
+
+    def test_greatest_lots_of_unlike_lengths(self):
+        for wish in all_wishes(4):
+            asked = [lot for lot in all_lots(4) if any(set(less) <= set(lot) for less in wish)]
+            held = [lot for lot in all_lots(4) if lot not in asked]
+            greatest = [lot for lot in held if not any(set(lot) < set(more) for more in held)]
+            told = tuple(sorted(greatest, key=lambda lot: (-len(lot), lot)))
+            self.assertEqual(holding(rope_for(wish, 4), 4), told)
+        self.assertEqual(holding("abcBC", 3), ("bc", "a"))
 
     def test_edges(self):
         for row in ("", "aA", "abBA"):
@@ -173,6 +182,12 @@ class TestRopes(unittest.TestCase):
         for posts in (2, 4, 8):
             self.assert_kept(rope_for(("a", "b"), posts), ("a", "b"), posts)
         self.assert_kept(rope_for(("ac", "bc"), 4), ("ac", "bc"), 4)
+
+    def test_no_single_post_is_a_good_arm(self):
+        for wish in (("ad", "ae", "bcd"), ("ad", "ae", "bcd", "bce"), ("ab", "ac", "bc", "ade", "bde", "cde")):
+            self.assert_kept(rope_for(wish, 5), wish, 5)
+        row = crossed("a", "a", ["b", "c"], 3)
+        self.assertEqual([told_falls(row, lot) for lot in ("b", "c", "a", "bc")], [False, False, True, True])
 
     def test_together(self):
         rows = ["", "aA", "a", "b", "ab", "ba", "abAB", "baBA", "aab", "AA", "acAC", "abcABC", "bcBC", "cC",
