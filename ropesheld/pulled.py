@@ -17,7 +17,7 @@ def all_lots(posts):
     return sorted(lots, key=lot_order)
 
 
-def is_within(less, lot):
+def is_in_lot(less, lot):
     """Whether all posts of the one lot are in the other one."""
     return all([post in lot for post in less])
 
@@ -26,7 +26,7 @@ def least_lots(posts, is_asked):
     """The least lots of a board of which something is so that is so of each greater lot, too."""
     found = []
     for lot in all_lots(posts):
-        if not any([is_within(less, lot) for less in found]) and is_asked(lot):
+        if not any([is_in_lot(less, lot) for less in found]) and is_asked(lot):
             found.append(lot)
     return tuple(found)
 

@@ -42,6 +42,11 @@ def is_number(value):
     return isinstance(value, int) and not isinstance(value, bool) and value >= 0
 
 
+def is_posts(value):
+    """Whether any value is a number of posts."""
+    return is_number(value) and 1 <= value <= MOST_POSTS
+
+
 def is_sequence(value):
     """Whether any value is a list or a tuple."""
     return isinstance(value, (list, tuple))

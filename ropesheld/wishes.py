@@ -1,7 +1,7 @@
 """Wishes: by which lots a rope shall fall, and ropes that do so."""
 
 from ropesheld.errors import InvalidWish
-from ropesheld.pulled import falling, falls, is_within, least_lots, lot_order, rest_of
+from ropesheld.pulled import falling, falls, is_in_lot, least_lots, lot_order, rest_of
 from ropesheld.rows import joined, times, turned, without
 from ropesheld.signs import MOST_POSTS, POSTS, check_row, is_sequence
 
@@ -26,7 +26,7 @@ def check_wish(wish, posts):
 
 def is_asked(lots, lot):
     """Whether a lot is one of some lots, or a greater one."""
-    return any([is_within(less, lot) for less in lots])
+    return any([is_in_lot(less, lot) for less in lots])
 
 
 def least_of(lots):

@@ -2,17 +2,27 @@
 
 from itertools import combinations, permutations, product
 
-from ropesheld import closed, errors, folds, forms, homes, houses, parting, pulled, pushes, rows, walks, wishes
+from ropesheld import (
+    closed, errors, folds, forms, homes, houses, maps, meeting, outside, parting, pulled, pushes, rows, sides, tying,
+    walks, webs, wishes)
 from ropesheld.houses import House
+from ropesheld.maps import Map
+from ropesheld.webs import Web
 
-MODULES = (rows, walks, pushes, houses, parting, homes, forms, folds, pulled, wishes, closed)
+MODULES = (
+    rows, walks, pushes, houses, parting, homes, forms, folds, pulled, wishes, closed, webs, tying, outside, meeting,
+    sides, maps)
 SIGNS = "aAbBcCdDeEfFgGhH"
 HOUSE = House([[1, 2, 0], [0, 2, 1]])
+ROPES = ("abAB", "aab")
+WEB = Web(2, ROPES)
+EVENS = Web(2, ["aa", "b", "abA"])
+SLIDE = Map(2, ["ab", "b"])
 
 # Any values that are no strings, of all kinds and nested.
 NO_STRINGS = (
     None, 0, 1, -1, 7, True, False, (), [], ("a",), ["a"], ["a", "b"], ("ab", ("ab",)), [[], [[]], [None]],
-    ((((((("a",),),),),),),), HOUSE, [HOUSE], (HOUSE, 0), ("", ""), (0, 1), [True],
+    ((((((("a",),),),),),),), HOUSE, [HOUSE], (HOUSE, 0), ("", ""), (0, 1), [True], WEB, (SLIDE,), SLIDE,
 )
 
 
@@ -114,6 +124,57 @@ def drawn_house(drawn, posts, things):
     return House([drawn_swap(drawn, things) for _ in range(posts)])
 
 
+def told_goal(house, thing, row):
+    """Where a row leads a thing, by the words of the document."""
+    for sign in row:
+        swap = house.swaps["abcdefgh".index(sign.lower())]
+        thing = swap[thing] if sign.islower() else swap.index(thing)
+    return thing
+
+
+def told_web(posts, ropes):
+    """The ties and the number of places of a web: rings at 0, of which places are made one, one pair after the other."""
+    ties, many = set(), 1
+    for rope in ropes:
+        row = taken_out(rope)
+        places = [0, *range(many, many + len(row) - 1), 0]
+        many += max(len(row) - 1, 0)
+        for sign, start, goal in zip(row, places, places[1:]):
+            ties.add((start, sign, goal) if sign.islower() else (goal, sign.lower(), start))
+    while True:
+        pair = next((sorted(pair) for pair in clashes(ties)), None)
+        if pair is None:
+            break
+        ties = {tuple(pair[0] if part == pair[1] else part for part in tie) for tie in ties}
+    return renamed_web(posts, ties)
+
+
+def clashes(ties):
+    """The pairs of places that are one, as ties of one post begin or end at one place."""
+    for start, post, goal in ties:
+        for first, other, last in ties:
+            if post == other and (start == first) != (goal == last):
+                yield (goal, last) if start == first else (start, first)
+
+
+def renamed_web(posts, ties):
+    """The ties of a web with places numbered by their least reduced rows, and the number of places."""
+    steps = {(start, post): goal for start, post, goal in ties}
+    steps.update({(goal, post.upper()): start for start, post, goal in ties})
+    places, ways = [0], [("", 0)]
+    while ways:
+        # All reduced rows of one length that go along ties, in order; only those to new places go on.
+        longer = [(row + sign, steps[place, sign]) for row, place in ways for sign in SIGNS[:2 * posts]
+                  if (place, sign) in steps]
+        ways = []
+        for row, place in sorted(longer, key=lambda pair: order(pair[0])):
+            if place not in places:
+                places.append(place)
+                ways.append((row, place))
+    numbers = {place: number for number, place in enumerate(places)}
+    return tuple(sorted((numbers[x], post, numbers[y]) for x, post, y in ties)), len(places)
+
+
 def no_rows(posts):
     """Pairs of a value that is no row of so many posts, and the number of the first thing in it that is no sign."""
     found = [(value, 0) for value in NO_STRINGS]
@@ -213,6 +274,29 @@ CALLS = {
     "arm_for_all": ({"ones": ("baa", "b"), "others": ("aab", "b")}, {}),
     "all_hold": ({"ones": ("baa", "b"), "others": ("aab", "b"), "value": "b"}, {}),
     "agree": ({"one": "aab", "other": "ab"}, {"one": 8, "other": 8}),
+    "tied": ({"posts": 2, "ropes": ROPES, "row": "aabbaBA"}, {"row": 2}),
+    "tied_holds": (
+        {"posts": 2, "ropes": ROPES, "row": "aabbaBA", "value": ((1, False), (0, True))}, {"row": 2}),
+    "idle": ({"posts": 2, "ropes": ("ab", "abab")}, {}),
+    "is_free": ({"posts": 2, "ropes": ROPES}, {}),
+    "rank": ({"web": WEB}, {}),
+    "base": ({"web": WEB}, {}),
+    "side_house": ({"posts": 2, "ropes": ROPES, "row": "ab"}, {"row": 2}),
+    "side_holds": (
+        {"posts": 2, "ropes": ("aa", "b"), "row": "a", "value": House([[1, 0], [0, 1]])}, {"row": 2}),
+    "meet": ({"one": EVENS, "other": WEB}, {}),
+    "joined_web": ({"one": EVENS, "other": WEB}, {}),
+    "is_within": ({"one": WEB, "other": EVENS}, {}),
+    "moved": ({"web": WEB, "row": "aB"}, {"row": 2}),
+    "mover": ({"one": WEB, "other": meeting.moved(WEB, "aB")}, {}),
+    "side_of": ({"web": WEB, "row": "aa"}, {"row": 2}),
+    "same_side": ({"web": WEB, "one": "aa", "other": "B"}, {"one": 2, "other": 2}),
+    "sides": ({"web": EVENS}, {}),
+    "all_sides": ({"web": EVENS}, {}),
+    "plain_map": ({"posts": 2}, {}),
+    "turning_map": ({"posts": 2, "row": "ab"}, {"row": 2}),
+    "led_after": ({"one": SLIDE, "other": Map(2, ["b", "A"])}, {}),
+    "table": ({"one": SLIDE}, {}),
 }
 
 

@@ -7,17 +7,10 @@ from ropesheld.houses import (
     House, beside, is_still, led_to, orbits, paired, stilled, swap_of, swap_order, swap_rounds)
 from ropesheld.parting import parting, parting_holds
 from tests.support import (
-    HOUSE, NO_STRINGS, all_houses, all_rows, draws, drawn_house, drawn_row, reduced_rows, taken_out, turned)
+    HOUSE, NO_STRINGS, all_houses, all_rows, draws, drawn_house, drawn_row, reduced_rows, taken_out,
+    told_goal, turned)
 
 HOUSES = all_houses(2, 3) + all_houses(1, 4) + all_houses(3, 2) + [House([[0]])]
-
-
-def told_goal(house, thing, row):
-    """Where a row leads a thing, by the words of the document."""
-    for sign in row:
-        swap = house.swaps["abcdefgh".index(sign.lower())]
-        thing = swap[thing] if sign.islower() else swap.index(thing)
-    return thing
 
 
 class TestHouse(unittest.TestCase):

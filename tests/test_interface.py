@@ -6,8 +6,10 @@ import unittest
 
 from ropesheld import errors
 from ropesheld.houses import House
+from ropesheld.maps import Map
 from ropesheld.rows import joined
-from tests.support import CALLS, HOUSE, MODULES, NO_STRINGS, all_lots, function_of, wrongs_of
+from ropesheld.webs import Web
+from tests.support import CALLS, HOUSE, MODULES, NO_STRINGS, SLIDE, WEB, all_lots, function_of, wrongs_of
 
 INTERFACE = {
     "rows": "reduced is_reduced turned joined times core windings without alike chain chain_holds",
@@ -22,6 +24,20 @@ INTERFACE = {
     "wishes": "wish_of asks either both any_of bars rope_for keeps_wish together",
     "closed": "turns least_turn same_closed some_arm arm_holds least_arm root nth_part commute shared_root "
               "shared_power arm_for_all all_hold agree",
+    "webs": "Web",
+    "tying": "tied tied_holds idle is_free rank base",
+    "outside": "side_house side_holds",
+    "meeting": "meet joined_web is_within moved mover",
+    "sides": "side_of same_side sides all_sides",
+    "maps": "Map plain_map turning_map led_after table",
+}
+CLASSES = {"House": House, "Web": Web, "Map": Map}
+OBJECTS = (HOUSE, WEB, SLIDE)
+METHODS = {
+    "House": {"__init__": ["swaps"], "read": ["text"], "__eq__": ["other"], "__str__": []},
+    "Web": {"__init__": ["posts", "ropes"], "place_of": ["row"], "has": ["row"], "__eq__": ["other"]},
+    "Map": {"__init__": ["posts", "rows"], "read": ["posts", "text"], "led": ["row"], "__eq__": ["other"],
+            "__str__": []},
 }
 
 ROPE_ERRORS = {
@@ -30,6 +46,18 @@ ROPE_ERRORS = {
     "InvalidCommand": [], "NoTrain": ["word"], "Refused": ["at"],
 }
 KEY_ERRORS = {"NoPost": ["name"], "NoRope": ["title"]}
+
+NO_POSTS = [value for value in NO_STRINGS if value is True or value not in (1, 7)] + ["", "2", 9, 10 ** 30, -2]
+NO_ROWS = [value for value in NO_STRINGS if value != ("", "")] + ["", "ab", "a", {"a": 1}, {"a"}]
+# Wrong arguments of a web and a map of two posts, and the name of the first one that is wrong.
+NO_WEBS = [(posts, ropes, "posts") for posts in NO_POSTS for ropes in ([], ["a"], None, ["a", 1])]
+NO_WEBS += [(2, ropes, "ropes") for ropes in NO_ROWS if ropes not in ([], (), ("a",), ["a"], ["a", "b"])]
+NO_WEBS += [(2, ["ab", value], "ropes") for value in [*NO_STRINGS, "c", "ab?", "aC", " "]]
+NO_MAPS = [(posts, rows, "posts") for posts in NO_POSTS for rows in (["a"], ["a", "b"], None, ["a", 1])]
+NO_MAPS += [(2, rows, "rows") for rows in NO_ROWS if rows != ["a", "b"]]
+NO_MAPS += [(2, ["ab", value], "rows") for value in [*NO_STRINGS, "c", "ab?", "aC", " ", "-"]]
+NO_MAPS += [(2, rows, "rows") for rows in ([], ["a"], ("a", "b", "a"), ["a"] * 8)]
+NO_MAPS += [(1, ["b"], "rows"), (8, ["a"] * 7, "rows"), (8, ["i"] * 8, "rows")]
 
 
 class TestErrors(unittest.TestCase):
@@ -71,14 +99,16 @@ class TestInterface(unittest.TestCase):
                 self.assertEqual(getattr(held, name).__module__, "ropesheld." + module, name)
 
     def test_each_function_is_called_below(self):
-        names = [name for listed in INTERFACE.values() for name in listed.split() if name != "House"]
+        names = [name for listed in INTERFACE.values() for name in listed.split() if name not in CLASSES]
         self.assertEqual(sorted(names), sorted(CALLS))
 
     def test_parameters(self):
         for name, (given, _) in CALLS.items():
             self.assertEqual(list(inspect.signature(function_of(name)).parameters), list(given), name)
-        self.assertEqual(list(inspect.signature(House).parameters), ["swaps"])
-        self.assertEqual(list(inspect.signature(House.read).parameters), ["text"])
+        for name, methods in METHODS.items():
+            for method, words in methods.items():
+                told = list(inspect.signature(getattr(CLASSES[name], method)).parameters)
+                self.assertEqual([word for word in told if word != "self"], words, (name, method))
 
     def test_by_position_and_by_names_in_another_order(self):
         for name, (given, _) in CALLS.items():
@@ -91,35 +121,50 @@ class TestInterface(unittest.TestCase):
             self.assertEqual(told, function(*list(given.values())[:half], **behind), name)
 
     def test_methods_stand_in_the_class(self):
-        for name in ("__init__", "read", "__eq__", "__str__"):
-            self.assertIn(name, vars(House))
+        for name, methods in METHODS.items():
+            for method in methods:
+                self.assertIn(method, vars(CLASSES[name]))
+
+    def test_objects_and_methods_by_names(self):
         self.assertEqual(House(swaps=[[0]]), House.read(text="0"))
+        web = Web(ropes=["abAB", "aab"], posts=2)
+        self.assertEqual((web, web.place_of(row="ab"), web.has(row="aabbaBA")), (Web(2, ("abAB", "aab")), 4, True))
+        self.assertEqual((web.place_of("ab"), web.has("aabbaBA")), (4, True))
+        one = Map(rows=["ab", "b"], posts=2)
+        self.assertEqual((one, one.led(row="aab"), one.led("aab")), (Map(2, ("ab", "b")), "ababb", "ababb"))
+        self.assertEqual(Map.read(text="ab,b", posts=2), Map.read(2, "ab,b"))
 
 
 class TestValues(unittest.TestCase):
     def test_lists_are_as_good_as_tuples(self):
         for name, words in {"joined": ["rows"], "home_joined": ["told"], "wish_of": ["lots"], "folded": ["fold"],
-                            "arm_for_all": ["ones", "others"], "all_hold": ["ones", "others"]}.items():
+                            "arm_for_all": ["ones", "others"], "all_hold": ["ones", "others"], "tied": ["ropes"],
+                            "tied_holds": ["ropes"], "idle": ["ropes"], "is_free": ["ropes"], "side_house": ["ropes"],
+                            "side_holds": ["ropes"]}.items():
             given = CALLS[name][0]
             lists = {word: list(value) if word in words else value for word, value in given.items()}
             self.assertEqual(function_of(name)(**given), function_of(name)(**lists), name)
             self.assertEqual(lists, {word: list(value) if word in words else value for word, value in given.items()})
         self.assertEqual(House([[1, 0], (0, 1)]), House(((1, 0), [0, 1])))
+        self.assertEqual((Web(2, ["ab", "b"]), Map(2, ["ab", "b"])), (Web(2, ("ab", "b")), Map(2, ("ab", "b"))))
         self.assertEqual(joined([]), joined(()))
 
     def test_sequences_that_are_returned_are_tuples(self):
         for name, (given, _) in CALLS.items():
             self.assert_tuples(function_of(name)(**given), name)
-        self.assert_tuples(House([[1, 0], [0, 1]]).swaps, "swaps")
+        for value in (HOUSE.swaps, WEB.ties, SLIDE.rows):
+            self.assertIsInstance(value, tuple)
+            self.assert_tuples(value, "attributes")
 
     def assert_tuples(self, value, name):
-        self.assertIsInstance(value, (str, bool, int, tuple, House, type(None)), name)
+        self.assertIsInstance(value, (str, bool, int, tuple, *CLASSES.values(), type(None)), name)
         for part in value if isinstance(value, tuple) else ():
             self.assert_tuples(part, name)
 
     def test_whether_is_a_bool(self):
         names = ("is_reduced alike chain_holds alike_walks push_chain_holds is_still parting_holds same_home "
-                 "fold_holds falls asks keeps_wish same_closed arm_holds commute all_hold").split()
+                 "fold_holds falls asks keeps_wish same_closed arm_holds commute all_hold tied_holds is_free side_holds "
+                 "is_within same_side").split()
         for name in names:
             self.assertIsInstance(function_of(name)(**CALLS[name][0]), bool, name)
             if "value" in CALLS[name][0]:
@@ -137,21 +182,30 @@ class TestValues(unittest.TestCase):
         swaps[0][0], swaps[1] = 0, [1, 0]
         swaps.append([0, 1])
         self.assertEqual((house.swaps, house.posts, house.things, str(house)), (((1, 0), (0, 1)), 2, 2, "1 0 | 0 1"))
+        rows = ["ab", "b"]
+        web, one = Web(2, rows), Map(2, rows)
+        rows[0] = "A"
+        rows.append("a")
+        self.assertEqual((web.ties, web.size, web.posts), (((0, "a", 0), (0, "b", 0)), 1, 2))
+        self.assertEqual((one.rows, one.posts, str(one), one.led("a")), (("ab", "b"), 2, "ab,b", "ab"))
 
     def test_objects_are_not_iterable(self):
-        for wrong in (iter, list, tuple, len):
+        for held in OBJECTS:
+            for wrong in (iter, list, tuple, len):
+                with self.assertRaises(TypeError):
+                    wrong(held)
             with self.assertRaises(TypeError):
-                wrong(HOUSE)
-        with self.assertRaises(TypeError):
-            0 in HOUSE
-        with self.assertRaises(TypeError):
-            first, *rest = HOUSE
+                0 in held
+            with self.assertRaises(TypeError):
+                first, *rest = held
 
     def test_equal_to_nothing_of_another_class(self):
-        for value in list(NO_STRINGS) + [HOUSE.swaps, str(HOUSE), list(HOUSE.swaps)]:
-            if value is not HOUSE:
-                self.assertFalse(HOUSE == value)
-                self.assertTrue(HOUSE != value)
+        told = [HOUSE.swaps, str(HOUSE), list(HOUSE.swaps), WEB.ties, (2, WEB.ties), SLIDE.rows, (2, SLIDE.rows)]
+        for held in OBJECTS:
+            for value in [*NO_STRINGS, *told, str(SLIDE), *OBJECTS]:
+                if value is not held:
+                    self.assertFalse(held == value)
+                    self.assertTrue(held != value)
 
 
 class TestWrongValues(unittest.TestCase):
@@ -195,6 +249,46 @@ class TestWrongValues(unittest.TestCase):
             for word, posts in kinds.items():
                 if posts in range(1, 8):
                     self.assert_raises(name, {**given, word: "aA" + "abcdefgh"[posts]}, ("", errors.InvalidRow, 2))
+
+    def test_rows_come_ahead_of_posts_and_ropes(self):
+        for posts, ropes in ((None, 0), (9, ["a"]), (2, "ab"), (2, ["c"]), (True, []), ("a", None), (0, ())):
+            for name in ("tied", "tied_holds", "side_house", "side_holds"):
+                for value, error, at in wrongs_of(8):
+                    given = {**CALLS[name][0], "posts": posts, "ropes": ropes, "row": value}
+                    self.assert_raises(name, given, (value, error, at))
+        for posts in (None, 0, 9, True, "a"):
+            self.assert_raises("turning_map", {"posts": posts, "row": "a?"}, ("a?", errors.InvalidRow, 1))
+
+    def test_no_told_ropes(self):
+        for posts, ropes, word in NO_WEBS:
+            for name in ("tied", "tied_holds", "side_house", "side_holds", "idle", "is_free"):
+                given = {word: value for word, value in CALLS[name][0].items() if word != "row"}
+                given = {**given, "posts": posts, "ropes": ropes}
+                if "row" in CALLS[name][0]:
+                    given["row"] = "aA"
+                self.assert_word(function_of(name), given, errors.InvalidWeb, word)
+            self.assert_word(Web, {"posts": posts, "ropes": ropes}, errors.InvalidWeb, word)
+
+    def test_no_maps(self):
+        for posts, rows, word in NO_MAPS:
+            self.assert_word(Map, {"posts": posts, "rows": rows}, errors.InvalidMap, word)
+        for posts in NO_POSTS:
+            self.assert_word(Map.read, {"posts": posts, "text": "a"}, errors.InvalidMap, "posts")
+            self.assert_word(function_of("plain_map"), {"posts": posts}, errors.InvalidMap, "posts")
+            self.assert_word(function_of("turning_map"), {"posts": posts, "row": "a"}, errors.InvalidMap, "posts")
+
+    def assert_word(self, made, given, error, word):
+        with self.assertRaises(errors.RopeError) as caught:
+            made(**given)
+        self.assertIs(type(caught.exception), error, given)
+        self.assertEqual(caught.exception.word, word, given)
+
+    def test_no_rows_for_methods(self):
+        for called in (WEB.place_of, WEB.has, SLIDE.led):
+            for value, error, at in wrongs_of(2):
+                with self.assertRaises(error) as caught:
+                    called(value)
+                self.assertEqual((caught.exception.at, type(caught.exception.at)), (at, int), value)
 
     def test_no_wish_of_any_board(self):
         for wish in [*NO_STRINGS, "a", "", ("b", "a"), ("i",), ("a", "ab"), ["a"], ("A",), ("h", "hi")]:
