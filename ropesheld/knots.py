@@ -11,7 +11,6 @@ one with 0 is the row of the knot between them.
 
 from heapq import heappop, heappush
 
-from ropesheld.nets import ring_ties
 from ropesheld.rows import reduced
 
 LONGEST = 60

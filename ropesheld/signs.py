@@ -37,9 +37,14 @@ def row_order(row):
     return len(row), row.translate(str.maketrans("aAbBcCdDeEfFgGhH", "abcdefghijklmnop"))
 
 
+def is_integer(value):
+    """Whether any value is an integer."""
+    return isinstance(value, int) and not isinstance(value, bool)
+
+
 def is_number(value):
     """Whether any value is an integer from 0 on."""
-    return isinstance(value, int) and not isinstance(value, bool) and value >= 0
+    return is_integer(value) and value >= 0
 
 
 def is_posts(value):

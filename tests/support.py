@@ -3,21 +3,22 @@
 from itertools import combinations, permutations, product
 
 from ropesheld import (
-    closed, errors, folds, forms, homes, houses, maps, meeting, outside, parting, pulled, pushes, rows, sides, tying,
-    walks, webs, wishes)
+    closed, errors, folds, forms, handles, homes, houses, leads, maps, meeting, outside, pairings, parting, pulled,
+    pushes, rows, shortening, sides, squares, tying, undoing, walks, webs, wishes)
 from ropesheld.houses import House
 from ropesheld.maps import Map
 from ropesheld.webs import Web
 
 MODULES = (
     rows, walks, pushes, houses, parting, homes, forms, folds, pulled, wishes, closed, webs, tying, outside, meeting,
-    sides, maps)
+    sides, maps, undoing, shortening, leads, pairings, handles, squares)
 SIGNS = "aAbBcCdDeEfFgGhH"
 HOUSE = House([[1, 2, 0], [0, 2, 1]])
 ROPES = ("abAB", "aab")
 WEB = Web(2, ROPES)
 EVENS = Web(2, ["aa", "b", "abA"])
 SLIDE = Map(2, ["ab", "b"])
+TWICE = Map(2, ["aa", "b"])
 
 # Any values that are no strings, of all kinds and nested.
 NO_STRINGS = (
@@ -133,7 +134,7 @@ def told_goal(house, thing, row):
 
 
 def told_web(posts, ropes):
-    """The ties and the number of places of a web: rings at 0, of which places are made one, one pair after the other."""
+    """The ties and the number of places of a web: rings at 0, with places made one, one pair after the other."""
     ties, many = set(), 1
     for rope in ropes:
         row = taken_out(rope)
@@ -188,6 +189,12 @@ def no_rows(posts):
 
 NO_WALKS = [(value, 0) for value in NO_STRINGS] + [
     ("N", 0), ("a", 0), ("nesw ", 4), ("nes\n", 3), ("n" * 40 + "x", 40), ("nEsw", 1), ("n\u00e9", 1)]
+
+# No leads of three posts.
+NO_LEADS = [(value, 0) for value in NO_STRINGS if value not in ((), [], (0, 1))] + [
+    ("", 0), ("1", 0), ("12", 0), ({}, 0), ({1}, 0), ([0], 0), ((3,), 0), ([1, 3], 1), ([1, -2, -3, 9], 2), ([2, 0], 1),
+    ([1, True], 1), ([False, 1], 0), ([1, "1"], 1), ((-1, -2, (1,)), 2), ((1, None), 1), ([1] * 60 + [10 ** 20], 60),
+    ((0, 1), 0), ([2, -1, HOUSE], 2), (["a"], 0)]
 
 # No wishes of a board with two posts.
 NO_WISHES = [value for value in NO_STRINGS if value != ("a",)] + [
@@ -297,6 +304,46 @@ CALLS = {
     "turning_map": ({"posts": 2, "row": "ab"}, {"row": 2}),
     "led_after": ({"one": SLIDE, "other": Map(2, ["b", "A"])}, {}),
     "table": ({"one": SLIDE}, {}),
+    "undone": ({"one": SLIDE}, {}),
+    "is_undone": ({"one": SLIDE, "other": Map(2, ["aB", "b"])}, {}),
+    "missed": ({"one": TWICE}, {}),
+    "missed_holds": ({"one": TWICE, "value": ("a", House([[1, 0], [0, 1]]))}, {}),
+    "turned_into": ({"one": SLIDE, "other": Map(2, ["ba", "b"])}, {}),
+    "turning_row": ({"one": Map(2, ["abaBA", "abA"])}, {}),
+    "changes": ({"posts": 2}, {}),
+    "shortening": ({"row": "aab", "posts": 2}, {"row": 2}),
+    "is_shortest": ({"row": "aabb", "posts": 2}, {"row": 2}),
+    "least_by_maps": ({"row": "BAba", "posts": 2}, {"row": 2}),
+    "same_by_maps": ({"one": "aab", "other": "B", "posts": 2}, {"one": 2, "other": 2}),
+    "map_between": ({"one": "ab", "other": "B", "posts": 2}, {"one": 2, "other": 2}),
+    "between_holds": (
+        {"one": "aB", "other": "a", "posts": 2, "value": Map(2, ["ab", "b"])}, {"one": 2, "other": 2}),
+    "is_free_part": ({"row": "aab", "posts": 2}, {"row": 2}),
+    "led_row": ({"posts": 3, "leads": (1, -2), "row": "ab"}, {"leads": "leads", "row": 3}),
+    "images": ({"posts": 3, "leads": (1, -2)}, {"leads": "leads"}),
+    "carried": ({"posts": 3, "leads": (1, -2)}, {"leads": "leads"}),
+    "spots": ({"posts": 3, "leads": (1, -2)}, {"leads": "leads"}),
+    "led_back": ({"leads": (1, -2)}, {}),
+    "same_leads": ({"posts": 3, "one": (1, 2, 1), "other": (2, 1, 2)}, {"one": "leads", "other": "leads"}),
+    "first_parted": ({"posts": 3, "one": (2,), "other": (-2,)}, {"one": "leads", "other": "leads"}),
+    "are_images": ({"value": ("abA", "a")}, {}),
+    "leads_for": ({"value": ("abA", "a")}, {}),
+    "leads_hold": ({"value": ("abA", "a"), "leads": (1,)}, {}),
+    "left_leads": ({"posts": 3, "leads": (1, 2, 1, 2), "post": "b"}, {"leads": "leads"}),
+    "crossings": ({"posts": 3, "leads": (1, 2, 1, 2)}, {"leads": "leads"}),
+    "whole_round": ({"posts": 3}, {}),
+    "whole_rounds": ({"posts": 3, "leads": (1, 2) * 3}, {"leads": "leads"}),
+    "pairing": ({"row": "abAB"}, {"row": 8}),
+    "handles_of": ({"row": "abAB", "pairs": ((0, 2), (1, 3))}, {"row": 8}),
+    "pairing_holds": ({"row": "abAB", "value": ((0, 2), (1, 3))}, {"row": 8}),
+    "handles": ({"row": "abABcdCD"}, {"row": 8}),
+    "handle_pairs": ({"row": "abABcdCD"}, {"row": 8}),
+    "handle_pairs_hold": ({"row": "abAB", "value": (("ab", "A"),)}, {"row": 8}),
+    "handle_cut": ({"row": "abAB"}, {"row": 8}),
+    "handle_cut_holds": ({"row": "abAB", "value": ("", "a", "b", "")}, {"row": 8}),
+    "squares": ({"row": "abAB"}, {"row": 8}),
+    "square_rows": ({"row": "abAB"}, {"row": 8}),
+    "square_rows_hold": ({"row": "abAB", "value": ("a", "Ab", "B")}, {"row": 8}),
 }
 
 
@@ -312,6 +359,8 @@ def wrongs_of(kind):
     """Pairs of a wrong value of a kind and the error that it raises, with what this keeps."""
     if kind == "walk":
         return [(value, errors.InvalidWalk, at) for value, at in NO_WALKS]
+    if kind == "leads":
+        return [(value, errors.InvalidLead, at) for value, at in NO_LEADS]
     if kind == "wish":
         return [(value, errors.InvalidWish, 0) for value in NO_WISHES]
     return [(value, errors.InvalidRow, at) for value, at in no_rows(kind)]

@@ -30,6 +30,13 @@ INTERFACE = {
     "meeting": "meet joined_web is_within moved mover",
     "sides": "side_of same_side sides all_sides",
     "maps": "Map plain_map turning_map led_after table",
+    "undoing": "undone is_undone missed missed_holds turned_into turning_row",
+    "shortening": "changes shortening is_shortest least_by_maps same_by_maps map_between between_holds is_free_part",
+    "leads": "led_row images carried spots led_back same_leads first_parted are_images leads_for leads_hold left_leads "
+             "crossings whole_round whole_rounds",
+    "pairings": "pairing handles_of pairing_holds",
+    "handles": "handles handle_pairs handle_pairs_hold handle_cut handle_cut_holds",
+    "squares": "squares square_rows square_rows_hold",
 }
 CLASSES = {"House": House, "Web": Web, "Map": Map}
 OBJECTS = (HOUSE, WEB, SLIDE)
@@ -140,7 +147,10 @@ class TestValues(unittest.TestCase):
         for name, words in {"joined": ["rows"], "home_joined": ["told"], "wish_of": ["lots"], "folded": ["fold"],
                             "arm_for_all": ["ones", "others"], "all_hold": ["ones", "others"], "tied": ["ropes"],
                             "tied_holds": ["ropes"], "idle": ["ropes"], "is_free": ["ropes"], "side_house": ["ropes"],
-                            "side_holds": ["ropes"]}.items():
+                            "side_holds": ["ropes"], "led_row": ["leads"], "images": ["leads"], "carried": ["leads"],
+                            "spots": ["leads"], "led_back": ["leads"], "same_leads": ["one", "other"],
+                            "first_parted": ["one", "other"], "left_leads": ["leads"], "crossings": ["leads"],
+                            "whole_rounds": ["leads"]}.items():
             given = CALLS[name][0]
             lists = {word: list(value) if word in words else value for word, value in given.items()}
             self.assertEqual(function_of(name)(**given), function_of(name)(**lists), name)
@@ -163,9 +173,11 @@ class TestValues(unittest.TestCase):
 
     def test_whether_is_a_bool(self):
         names = ("is_reduced alike chain_holds alike_walks push_chain_holds is_still parting_holds same_home "
-                 "fold_holds falls asks keeps_wish same_closed arm_holds commute all_hold tied_holds is_free side_holds "
-                 "is_within same_side").split()
-        for name in names:
+                 "fold_holds falls asks keeps_wish same_closed arm_holds commute all_hold tied_holds is_free "
+                 "side_holds is_within same_side is_undone missed_holds is_shortest same_by_maps between_holds "
+                 "is_free_part same_leads are_images leads_hold pairing_holds handle_pairs_hold handle_cut_holds "
+                 "square_rows_hold")
+        for name in names.split():
             self.assertIsInstance(function_of(name)(**CALLS[name][0]), bool, name)
             if "value" in CALLS[name][0]:
                 for value in list(NO_STRINGS) + ["", "ab", "x"]:
@@ -282,6 +294,31 @@ class TestWrongValues(unittest.TestCase):
             made(**given)
         self.assertIs(type(caught.exception), error, given)
         self.assertEqual(caught.exception.word, word, given)
+
+    def test_leads_come_ahead_of_rows_and_posts(self):
+        for value, error, at in wrongs_of("leads"):
+            self.assert_raises("led_row", {"posts": 3, "leads": value, "row": "a?"}, (value, error, at))
+            self.assert_raises("left_leads", {"posts": 3, "leads": value, "post": None}, (value, error, at))
+
+    def test_no_post(self):
+        for post in [*NO_STRINGS, "", "A", "d", "ab", "abc", "a ", "1", b"a"]:
+            with self.assertRaises(errors.NoPost) as caught:
+                function_of("left_leads")(posts=3, leads=[1, 2], post=post)
+            self.assertEqual((type(caught.exception), caught.exception.name), (errors.NoPost, post))
+
+    def test_leads_of_so_many_posts_alone(self):
+        for posts in range(1, 9):
+            for lead in (posts, -posts, 0, posts + 5):
+                for leads in ([lead], [*range(1, posts), lead], (*range(1 - posts, 0), lead, None)):
+                    given = {"posts": posts, "leads": leads}
+                    wrong = (leads, errors.InvalidLead, leads.index(lead))
+                    for name in ("images", "carried", "spots", "crossings", "whole_rounds"):
+                        self.assert_raises(name, given, wrong)
+                    self.assert_raises("led_row", {**given, "row": "a"}, wrong)
+                    self.assert_raises("left_leads", {**given, "post": "a"}, wrong)
+                    for name in ("same_leads", "first_parted"):
+                        self.assert_raises(name, {"posts": posts, "one": leads, "other": None}, wrong)
+                        self.assert_raises(name, {"posts": posts, "one": [], "other": leads}, wrong)
 
     def test_no_rows_for_methods(self):
         for called in (WEB.place_of, WEB.has, SLIDE.led):

@@ -86,8 +86,8 @@ class TestText(unittest.TestCase):
         self.assertEqual(len(Map.read(2, "ab" * 700 + "," + "Ba" * 700).rows[1]), 1400)
 
     def test_no_text(self):
-        wrong = ["", "a", "a,", ",b", ",", "a,b,", "a,b,a", "a,c", "a,-b", "a,--", "a, b", " a,b", "a,b ", "a;b", "a,b\n",
-                 "a,B?", "-", "a b", "a,\u00e4", "A,i", "a,1"]
+        wrong = ["", "a", "a,", ",b", ",", "a,b,", "a,b,a", "a,c", "a,-b", "a,--", "a, b", " a,b", "a,b ", "a;b",
+                 "a,b\n", "a,B?", "-", "a b", "a,\u00e4", "A,i", "a,1"]
         for value in [*NO_STRINGS, *wrong, ("a", "b"), ["a", "b"]]:
             with self.assertRaises(InvalidText) as caught:
                 Map.read(2, value)

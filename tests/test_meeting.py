@@ -9,8 +9,9 @@ from ropesheld.tying import base, rank, tied
 from ropesheld.webs import Web
 from tests.support import EVENS, WEB, all_rows, draws, drawn_row, order, reduced_rows, taken_out, turned
 
-LOTS = [[], ["a"], ["b"], ["aa", "b", "abA"], ["abAB", "aab"], ["ab", "ba"], ["aaa", "b"], ["aabb"], ["abA"], ["abbA", "a"],
-        ["a", "b"], ["aa", "ab", "ba"], ["aa", "bb", "abab"], ["bab", "aab"], ["aa", "aB", "bbb"], ["baaB"]]
+LOTS = [[], ["a"], ["b"], ["aa", "b", "abA"], ["abAB", "aab"], ["ab", "ba"], ["aaa", "b"], ["aabb"], ["abA"],
+        ["abbA", "a"], ["a", "b"], ["aa", "ab", "ba"], ["aa", "bb", "abab"], ["bab", "aab"],
+        ["aa", "aB", "bbb"], ["baaB"]]
 drawn = draws(71)
 LOTS += [[drawn_row(drawn, 2, drawn(6)) for _ in range(1 + drawn(3))] for _ in range(14)]
 SHORT = reduced_rows(2, 5)
@@ -53,7 +54,8 @@ class TestMeeting(unittest.TestCase):
         self.assertEqual((web.size, web.has("a" * 119 * 120), web.has("a" * 119)), (119 * 120, True, False))
         self.assertEqual(mover(web, moved(web, "aaa")), "")
         some = draws(72)
-        webs = [Web(4, [drawn_row(some, 4, 40), *rows]) for rows in (["a" * 40, "bb", "c"], ["a" * 38, "b", "cc", "abA"])]
+        lots = (["a" * 40, "bb", "c"], ["a" * 38, "b", "cc", "abA"])
+        webs = [Web(4, [drawn_row(some, 4, 40), *rows]) for rows in lots]
         web = meet(*webs)
         self.assertTrue(all(row.has(rope) for row in webs for rope in base(web)))
         self.assertTrue(web.has(times("a", 38 * 20)))

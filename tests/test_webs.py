@@ -59,7 +59,8 @@ class TestWebs(unittest.TestCase):
             for ropes in ([], [""], ["aA", "", "aAaA"]):
                 web = Web(posts, ropes)
                 self.assertEqual((web.posts, web.ties, web.size), (posts, (), 1))
-                self.assertEqual((web.has(""), web.has("aA"), web.has("a"), web.place_of("a")), (True, True, False, None))
+                self.assertEqual((web.has(""), web.has("aA"), web.has("a"), web.place_of("a")),
+                                 (True, True, False, None))
         web = Web(8, ["abcdefgh", "h"])
         self.assertEqual((web.size, web.place_of("HGFED"), web.place_of("abc")), (7, 5, 5))
         self.assertEqual((WEB.size, WEB.place_of("ab"), WEB.place_of("bB"), WEB.place_of("BB")), (5, 4, 0, None))
@@ -125,8 +126,8 @@ class TestKnots(unittest.TestCase):
 
     def test_long_knots(self):
         ropes = ["a" + "b" * 59, "b" + "c" * 59, "c" + "d" * 59, "d"]
-        self.assertEqual([len(self.assert_tied(4, ropes, row)) for row in ("d", "c", "b", "a" + "b" * 59, "b" + "c" * 59)],
-                         [1, 60, 3541, 1, 1])
+        for row, many in (("d", 1), ("c", 60), ("b", 3541), (ropes[0], 1), (ropes[1], 1)):
+            self.assertEqual(len(self.assert_tied(4, ropes, row)), many)
         self.assertIsNone(idle(4, ropes))
         # With so many ropes some knots have more than a million pairs; the others are to be told none the less.
         parts = ["a" * many + "b" + "A" * many for many in range(22)]
@@ -151,10 +152,11 @@ class TestKnots(unittest.TestCase):
         row = "aabbaBA"
         self.assertTrue(tied_holds(2, ROPES, row, ((1, False), (0, True))))
         self.assertTrue(tied_holds(2, ROPES, row, ((1, False), (0, True), (1, True), (1, False))))
-        wrong = [((0, True), (1, False)), ((1, False),), ((1, 0), (0, 1)), ((1, False), (0, 1)), [(1, False), (0, True)],
-                 ([1, False], [0, True]), ((1, False), (2, True)), ((1, False), (-2, True)), ((True, False), (False, True)),
-                 ((1, False, 0), (0, True)), ((1,), (0,)), ((1, False), None), (1, False), ((1, None), (0, True)), "ab",
-                 (("1", False), (0, True)), ((1, False), (0, True), ()), ((0, True),) * 2]
+        wrong = [((0, True), (1, False)), ((1, False),), ((1, 0), (0, 1)), ((1, False), (0, 1)),
+                 [(1, False), (0, True)], ([1, False], [0, True]), ((1, False), (2, True)), ((1, False), (-2, True)),
+                 ((True, False), (False, True)), ((1, False, 0), (0, True)), ((1,), (0,)), ((1, False), None),
+                 (1, False), ((1, None), (0, True)), "ab", (("1", False), (0, True)), ((1, False), (0, True), ()),
+                 ((0, True),) * 2]
         for value in wrong + list(NO_STRINGS):
             self.assertFalse(tied_holds(2, ROPES, row, value), value)
         for value in [value for value in NO_STRINGS if value != ()] + ["", ((0, False),)]:
@@ -265,7 +267,8 @@ class TestSideHouses(unittest.TestCase):
     def test_other_values_are_no_side_houses(self):
         house = House([[1, 0], [0, 1]])
         self.assertTrue(side_holds(2, ["b"], "a", house))
-        wrong = [House([[1, 0]]), House([[1, 0], [0, 1], [0, 1]]), (house, 0), [house], house.swaps, str(house), (house,)]
+        wrong = [House([[1, 0]]), House([[1, 0], [0, 1], [0, 1]]), (house, 0), [house], house.swaps, str(house),
+                 (house,)]
         for value in wrong + [value for value in NO_STRINGS if value is not HOUSE]:
             self.assertFalse(side_holds(2, ["b"], "a", value), value)
         self.assertFalse(side_holds(2, ["b"], "b", house))
