@@ -27,11 +27,7 @@ def idle_knot(ropes):
     """Some idle knot of ropes that are not free."""
     tangle = Tangle(ropes, [])
     tangle.make_one()
-    for knot in sorted(tangle.idle, key=tangle.weight_of):
-        numbers = tangle.written_out(knot)
-        if numbers:
-            return numbers
-    return None
+    return tangle.written_out(tangle.idle[0])
 
 
 def turned_knot(knot):
@@ -121,31 +117,33 @@ class Tangle:
         return (self.many + len(self.named),)
 
     def make_one(self):
-        """Make places one until all lines, if there are any, end at 0; lighter knots first, so that they stay light."""
-        while self.queue and not self.is_done():
+        """Make places one until what is looked for is found; lighter knots come first, so that they stay light."""
+        while not self.is_done():
             weight, _, one, other, knot = heappop(self.queue)
             (one, ahead), (other, behind) = self.now_in(one), self.now_in(other)
             knot = knot_on(knot_on(turned_knot(ahead), knot), behind)
-            if one == other:
-                self.idle += [knot] if knot else []
-            elif self.weight_of(knot) > weight:
+            if self.weight_of(knot) > weight:
                 self.keep(one, other, knot)
+            elif one == other:
+                self.idle += [knot] if knot else []
             elif other == 0 or one != 0 and len(self.steps[other]) > len(self.steps[one]):
                 self.put_into(other, one, turned_knot(knot))
             else:
                 self.put_into(one, other, knot)
 
     def is_done(self):
-        """Whether there are lines, and all of them end at 0."""
-        return len(self.ends) > 0 and all([self.now_in(end)[0] == 0 for end in self.ends])
+        """Whether all lines end at 0; without lines, whether there is an idle knot."""
+        if not self.ends:
+            return len(self.idle) > 0
+        return all([self.now_in(end)[0] == 0 for end in self.ends])
 
     def put_into(self, kept, gone, knot):
         """Make a place, to which a knot leads from another one, a part of that one."""
         short = self.brief(knot)
         self.into[gone] = (kept, turned_knot(short))
-        steps = self.steps[gone]
+        onward = self.steps[gone]
         self.steps[gone] = {}
-        for sign, (goal, more) in steps.items():
+        for sign, (goal, more) in onward.items():
             self.add_step(kept, sign, goal, knot_on(short, more))
 
     def now_in(self, place):

@@ -40,7 +40,6 @@ def led_row(posts, leads, row):
 
 def images(posts, leads):
     """The rows to which the posts' own signs are led."""
-    check_leads(posts, leads)
     return tuple([led_row(posts, leads, post) for post in POSTS[:posts]])
 
 
@@ -66,8 +65,6 @@ def same_leads(posts, one, other):
 
 def first_parted(posts, one, other):
     """The first post whose images by two leads differ, or None."""
-    check_leads(posts, one)
-    check_leads(posts, other)
     for post in POSTS[:posts]:
         if led_row(posts, one, post) != led_row(posts, other, post):
             return post
@@ -127,7 +124,7 @@ def leads_hold(value, leads):
 def left_leads(posts, leads, post):
     """The leads of the other posts, if one post is taken out ahead of all."""
     check_leads(posts, leads)
-    if not isinstance(post, str) or post not in list(POSTS[:posts]):
+    if post not in list(POSTS[:posts]):
         raise NoPost(post)
     left, place = [], POSTS.index(post)
     for lead in leads:
@@ -161,11 +158,8 @@ def whole_round(posts):
 
 def whole_rounds(posts, leads):
     """How many whole rounds leads do, below 0 the other way round, or None."""
-    rows = images(posts, leads)
-    if posts == 1:
-        return 0
-    whole = POSTS[:posts]
-    # The arm of the first image is all posts as often as they go round, but for its own sign at the end.
+    rows, whole = images(posts, leads), POSTS[:posts]
+    # The arm of the first image is all posts so often; the other way round it lacks the first one at its end.
     length = len(core(rows[0])[0])
     for many in (length // posts, -((length + 1) // posts)):
         around = times(whole, many)

@@ -81,4 +81,5 @@ def numbered(net, posts, home):
                 places.append(steps[sign])
                 ends.append((at, sign))
         at += 1
-    return [{sign: numbers[goal] for sign, goal in net[place].items()} for place in places], ends
+    goals = [{sign: numbers[goal] for sign, goal in net[place].items()} for place in places]
+    return tuple(goals), tuple(ends)

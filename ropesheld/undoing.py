@@ -49,7 +49,7 @@ def missed_holds(one, value):
     if not isinstance(value, tuple) or len(value) != 2:
         return False
     post, house = value
-    if not isinstance(post, str) or post not in list(POSTS[:one.posts]) or not isinstance(house, House):
+    if post not in list(POSTS[:one.posts]) or not isinstance(house, House):
         return False
     if not all([is_row(row, house.posts) for row in [post, *one.rows]]):
         return False

@@ -176,7 +176,8 @@ class TestHandles(unittest.TestCase):
         self.assertTrue(handle_pairs_hold("abAB", (("ab", "A"),)))
         self.assertTrue(handle_pairs_hold("abAB", (("a", "b"), ("", "b"), ("aA", "hH"))))
         wrong = [[("a", "b")], (["a", "b"],), ("a", "b"), (("a", "b", ""),), (("a",), ("b",)), (("a", "i"),),
-                 (("a", None),), (("a", "b"), None), "ab", (("a", "b?"),), ((("a", "b"),),), (("a", "b"), ())]
+                 (("i", "a"),), ((None, "a"),), (("a", None),), (("a", "b"), None), "ab", (("a", "b?"),),
+                 ((("a", "b"),),), (("a", "b"), ())]
         for value in wrong + list(NO_STRINGS):
             self.assertFalse(handle_pairs_hold("abAB", value), value)
         for value in [value for value in NO_STRINGS if value != ()] + ["", ("", "")]:

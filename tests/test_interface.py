@@ -327,6 +327,14 @@ class TestWrongValues(unittest.TestCase):
                     called(value)
                 self.assertEqual((caught.exception.at, type(caught.exception.at)), (at, int), value)
 
+    def test_rows_of_one_post(self):
+        for name in ("shortening", "is_shortest", "least_by_maps", "is_free_part"):
+            self.assert_raises(name, {"row": "aAb", "posts": 1}, ("aAb", errors.InvalidRow, 2))
+        for name in ("same_by_maps", "map_between", "between_holds"):
+            given = {"value": None} if name == "between_holds" else {}
+            self.assert_raises(name, {"one": "ab", "other": "b", "posts": 1, **given}, ("ab", errors.InvalidRow, 1))
+            self.assert_raises(name, {"one": "a", "other": "aab", "posts": 1, **given}, ("aab", errors.InvalidRow, 2))
+
     def test_no_wish_of_any_board(self):
         for wish in [*NO_STRINGS, "a", "", ("b", "a"), ("i",), ("a", "ab"), ["a"], ("A",), ("h", "hi")]:
             if wish != ("a",):

@@ -11,7 +11,7 @@ from tests.support import EVENS, WEB, all_rows, draws, drawn_row, order, reduced
 
 LOTS = [[], ["a"], ["b"], ["aa", "b", "abA"], ["abAB", "aab"], ["ab", "ba"], ["aaa", "b"], ["aabb"], ["abA"],
         ["abbA", "a"], ["a", "b"], ["aa", "ab", "ba"], ["aa", "bb", "abab"], ["bab", "aab"],
-        ["aa", "aB", "bbb"], ["baaB"]]
+        ["aa", "aB", "bbb"], ["baaB"], ["aabAA"], ["abaBA", "abbBA"]]
 drawn = draws(71)
 LOTS += [[drawn_row(drawn, 2, drawn(6)) for _ in range(1 + drawn(3))] for _ in range(14)]
 SHORT = reduced_rows(2, 5)
@@ -70,7 +70,7 @@ class TestMoved(unittest.TestCase):
     def test_all_ropes_between_the_turned_row_and_the_row(self):
         for ropes in LOTS:
             web = Web(2, ropes)
-            for row in SHORT[:100:7] + ["abAABa", "aAb", "bbbAA"]:
+            for row in SHORT[:100:7] + ["a", "ab", "abAABa", "aAb", "bbbAA"]:
                 goal = Web(2, [turned(row) + rope + row for rope in ropes])
                 self.assertEqual(moved(web, row), goal)
                 self.assert_mover(web, goal)
