@@ -3,15 +3,16 @@
 from itertools import combinations, permutations, product
 
 from ropesheld import (
-    closed, errors, folds, forms, handles, homes, houses, leads, maps, meeting, outside, pairings, parting, pulled,
-    pushes, rows, shortening, sides, squares, tying, undoing, walks, webs, wishes)
+    basics, closed, depths, errors, folds, forms, grown, handles, homes, houses, leads, maps, meeting, outside,
+    pairings, parting, pulled, pushes, rows, series, sheets, shortening, sides, squares, trains, tying, undoing, walks,
+    webs, wishes)
 from ropesheld.houses import House
 from ropesheld.maps import Map
 from ropesheld.webs import Web
 
 MODULES = (
     rows, walks, pushes, houses, parting, homes, forms, folds, pulled, wishes, closed, webs, tying, outside, meeting,
-    sides, maps, undoing, shortening, leads, pairings, handles, squares)
+    sides, maps, undoing, shortening, leads, pairings, handles, squares, sheets, series, basics, depths, trains, grown)
 SIGNS = "aAbBcCdDeEfFgGhH"
 HOUSE = House([[1, 2, 0], [0, 2, 1]])
 ROPES = ("abAB", "aab")
@@ -19,6 +20,7 @@ WEB = Web(2, ROPES)
 EVENS = Web(2, ["aa", "b", "abA"])
 SLIDE = Map(2, ["ab", "b"])
 TWICE = Map(2, ["aa", "b"])
+GROW = Map(2, ["ab", "a"])
 
 # Any values that are no strings, of all kinds and nested.
 NO_STRINGS = (
@@ -174,6 +176,11 @@ def renamed_web(posts, ties):
                 ways.append((row, place))
     numbers = {place: number for number, place in enumerate(places)}
     return tuple(sorted((numbers[x], post, numbers[y]) for x, post, y in ties)), len(places)
+
+
+def no_plains(posts):
+    """Pairs of a value that is no plain row of so many posts, and the number that InvalidRow tells for it."""
+    return no_rows(posts) + [("A", 0), ("aA", 1), ("a" * 20 + "A", 20), ("aAa", 1), ("AA", 0), ("aAaAz", 4), ("A?", 1)]
 
 
 def no_rows(posts):
@@ -344,6 +351,40 @@ CALLS = {
     "squares": ({"row": "abAB"}, {"row": 8}),
     "square_rows": ({"row": "abAB"}, {"row": 8}),
     "square_rows_hold": ({"row": "abAB", "value": ("a", "Ab", "B")}, {"row": 8}),
+    "fall_together": ({"rows": ("ab", "A", "B")}, {}),
+    "fall_together_holds": ({"rows": ("ab", "A", "B"), "value": ("", "B", "")}, {}),
+    "term": ({"row": "abAB", "plain": "ab"}, {"row": 8, "plain": "plain"}),
+    "terms": ({"row": "abAB", "degree": 2}, {"row": 8}),
+    "depth": ({"row": "abAB"}, {"row": 8}),
+    "commutator": ({"one": "ab", "other": "b"}, {"one": 8, "other": 8}),
+    "parting_depth": ({"one": "ab", "other": "ba"}, {"one": 8, "other": 8}),
+    "parting_plain": ({"one": "ab", "other": "ba"}, {"one": 8, "other": 8}),
+    "plain_parts": ({"one": "ab", "other": "ba", "value": "ab"}, {"one": 8, "other": 8}),
+    "is_basic": ({"plain": "aab"}, {"plain": "plain"}),
+    "basics": ({"posts": 2, "degree": 3}, {}),
+    "many_basics": ({"posts": 2, "degree": 3}, {}),
+    "basic_halves": ({"plain": "aab"}, {"plain": "plain"}),
+    "basic_rope": ({"plain": "aab"}, {"plain": "plain"}),
+    "leading": ({"row": "abAB"}, {"row": 8}),
+    "collected": ({"row": "ba", "degree": 2}, {"row": 8}),
+    "collected_row": ({"pairs": (("a", 1), ("b", 1), ("ab", -1))}, {}),
+    "bracket": ({"one": (("ab", 1),), "other": (("a", 2), ("b", 1))}, {}),
+    "term_house": ({"posts": 2, "plain": "ab", "by": 3}, {"plain": "plain of 2"}),
+    "turns_in": ({"row": "abA"}, {"row": 8}),
+    "turn_led": ({"one": GROW, "turn": ("A", "b")}, {}),
+    "is_smooth": ({"one": GROW, "row": "ab"}, {"row": 2}),
+    "train_lot": ({"one": GROW}, {}),
+    "is_train": ({"one": GROW}, {}),
+    "train_holds": ({"one": GROW, "value": (("A", "a"), ("A", "b"), ("B", "a"))}, {}),
+    "trouble": ({"one": Map(2, ["ab", "A"])}, {}),
+    "tallies": ({"one": GROW, "row": "ab", "many": 4}, {"row": 2}),
+    "long": ({"one": GROW, "row": "ab", "many": 4}, {"row": 2}),
+    "long_rest": ({"one": GROW, "row": "ab", "many": 10 ** 15, "by": 10}, {"row": 2}),
+    "sign_led": ({"one": GROW, "row": "ab", "many": 4, "n": 5}, {"row": 2}),
+    "growth": ({"one": GROW, "row": "ab"}, {"row": 2}),
+    "cycle": ({"one": Map(2, ["b", "A"]), "row": "a"}, {"row": 2}),
+    "windings_led": ({"one": GROW, "row": "aB", "many": 3}, {"row": 2}),
+    "windings_rest": ({"one": GROW, "row": "aB", "many": 10 ** 15, "by": 7}, {"row": 2}),
 }
 
 
@@ -363,4 +404,6 @@ def wrongs_of(kind):
         return [(value, errors.InvalidLead, at) for value, at in NO_LEADS]
     if kind == "wish":
         return [(value, errors.InvalidWish, 0) for value in NO_WISHES]
+    if kind in ("plain", "plain of 2"):
+        return [(value, errors.InvalidRow, at) for value, at in no_plains(8 if kind == "plain" else 2)]
     return [(value, errors.InvalidRow, at) for value, at in no_rows(kind)]

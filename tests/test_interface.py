@@ -37,6 +37,12 @@ INTERFACE = {
     "pairings": "pairing handles_of pairing_holds",
     "handles": "handles handle_pairs handle_pairs_hold handle_cut handle_cut_holds",
     "squares": "squares square_rows square_rows_hold",
+    "sheets": "fall_together fall_together_holds",
+    "series": "term terms depth commutator parting_depth parting_plain plain_parts",
+    "basics": "is_basic basics many_basics basic_halves basic_rope",
+    "depths": "leading collected collected_row bracket term_house",
+    "trains": "turns_in turn_led is_smooth train_lot is_train train_holds trouble",
+    "grown": "tallies long long_rest sign_led growth cycle windings_led windings_rest",
 }
 CLASSES = {"House": House, "Web": Web, "Map": Map}
 OBJECTS = (HOUSE, WEB, SLIDE)
@@ -150,7 +156,8 @@ class TestValues(unittest.TestCase):
                             "side_holds": ["ropes"], "led_row": ["leads"], "images": ["leads"], "carried": ["leads"],
                             "spots": ["leads"], "led_back": ["leads"], "same_leads": ["one", "other"],
                             "first_parted": ["one", "other"], "left_leads": ["leads"], "crossings": ["leads"],
-                            "whole_rounds": ["leads"]}.items():
+                            "whole_rounds": ["leads"], "fall_together": ["rows"], "fall_together_holds": ["rows"],
+                            "collected_row": ["pairs"], "bracket": ["one", "other"]}.items():
             given = CALLS[name][0]
             lists = {word: list(value) if word in words else value for word, value in given.items()}
             self.assertEqual(function_of(name)(**given), function_of(name)(**lists), name)
@@ -176,7 +183,7 @@ class TestValues(unittest.TestCase):
                  "fold_holds falls asks keeps_wish same_closed arm_holds commute all_hold tied_holds is_free "
                  "side_holds is_within same_side is_undone missed_holds is_shortest same_by_maps between_holds "
                  "is_free_part same_leads are_images leads_hold pairing_holds handle_pairs_hold handle_cut_holds "
-                 "square_rows_hold")
+                 "square_rows_hold fall_together_holds plain_parts is_basic is_smooth is_train train_holds")
         for name in names.split():
             self.assertIsInstance(function_of(name)(**CALLS[name][0]), bool, name)
             if "value" in CALLS[name][0]:
@@ -255,6 +262,9 @@ class TestWrongValues(unittest.TestCase):
             self.assert_raises("arm_for_all", {"ones": ["a", "b"], "others": [wrong[0], None]}, wrong)
             self.assert_raises("all_hold", {"ones": ["a", wrong[0]], "others": [None, "b"], "value": None}, wrong)
             self.assert_raises("all_hold", {"ones": ["a", "b"], "others": ["a", wrong[0]], "value": 1}, wrong)
+            for rows in ([wrong[0]], ["a", wrong[0]], ("ab", "B", wrong[0], None), ["abAB", wrong[0], "a?"]):
+                self.assert_raises("fall_together", {"rows": rows}, wrong)
+                self.assert_raises("fall_together_holds", {"rows": rows, "value": None}, wrong)
 
     def test_posts_of_the_board_alone_are_signs(self):
         for name, (given, kinds) in CALLS.items():
