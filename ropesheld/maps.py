@@ -2,7 +2,7 @@
 
 from ropesheld.errors import InvalidMap, InvalidText
 from ropesheld.rows import reduced, turned, windings
-from ropesheld.signs import MOST_POSTS, POSTS, check_row, is_posts, is_row, is_sequence
+from ropesheld.signs import MOST_POSTS, POSTS, check_row, is_posts, is_row, is_sequence, word_of
 
 
 class Map:
@@ -19,7 +19,7 @@ class Map:
         return isinstance(other, Map) and self.posts == other.posts and self.rows == other.rows
 
     def __str__(self):
-        return ",".join([row if row else "-" for row in self.rows])
+        return ",".join([word_of(row) for row in self.rows])
 
     @staticmethod
     def read(posts, text):

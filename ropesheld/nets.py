@@ -83,3 +83,14 @@ def numbered(net, posts, home):
         at += 1
     goals = [{sign: numbers[goal] for sign, goal in net[place].items()} for place in places]
     return tuple(goals), tuple(ends)
+
+
+def is_tied(rows, row):
+    """Whether a reduced row is tied of some reduced rows."""
+    many, ties = ring_ties(rows)
+    net, place = net_of(many, ties), 0
+    for sign in row:
+        if sign not in net[place]:
+            return False
+        place = net[place][sign]
+    return place == 0

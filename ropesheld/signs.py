@@ -32,6 +32,11 @@ def check_row(row, posts=MOST_POSTS):
         raise InvalidRow(at)
 
 
+def word_of(row):
+    """The word that stands for a row in a text: "-" for the empty one."""
+    return row if row else "-"
+
+
 def row_order(row):
     """The key by which rows are ascending: shorter ones first, then sign by sign."""
     return len(row), row.translate(str.maketrans("aAbBcCdDeEfFgGhH", "abcdefghijklmnop"))

@@ -3,16 +3,19 @@
 from itertools import combinations, permutations, product
 
 from ropesheld import (
-    basics, closed, depths, errors, folds, forms, grown, handles, homes, houses, leads, maps, meeting, outside,
-    pairings, parting, pulled, pushes, rows, series, sheets, shortening, sides, squares, trains, tying, undoing, walks,
-    webs, wishes)
+    basics, checker, closed, counting, depths, desk, errors, fallcounts, folds, forms, grown, handles, homes, houses,
+    leads, live, maps, meeting, outside, pairings, parting, pulled, pushes, readings, rows, series, sheets, shortening,
+    sides, squares, trains, tying, undoing, walks, webcounts, webs, wishes)
+from ropesheld.desk import Desk
 from ropesheld.houses import House
+from ropesheld.live import Live
 from ropesheld.maps import Map
 from ropesheld.webs import Web
 
 MODULES = (
     rows, walks, pushes, houses, parting, homes, forms, folds, pulled, wishes, closed, webs, tying, outside, meeting,
-    sides, maps, undoing, shortening, leads, pairings, handles, squares, sheets, series, basics, depths, trains, grown)
+    sides, maps, undoing, shortening, leads, pairings, handles, squares, sheets, series, basics, depths, trains, grown,
+    readings, counting, fallcounts, webcounts, live, desk, checker)
 SIGNS = "aAbBcCdDeEfFgGhH"
 HOUSE = House([[1, 2, 0], [0, 2, 1]])
 ROPES = ("abAB", "aab")
@@ -21,11 +24,14 @@ EVENS = Web(2, ["aa", "b", "abA"])
 SLIDE = Map(2, ["ab", "b"])
 TWICE = Map(2, ["aa", "b"])
 GROW = Map(2, ["ab", "a"])
+BOARD = Live(2)
+DESK = Desk()
 
 # Any values that are no strings, of all kinds and nested.
 NO_STRINGS = (
     None, 0, 1, -1, 7, True, False, (), [], ("a",), ["a"], ["a", "b"], ("ab", ("ab",)), [[], [[]], [None]],
     ((((((("a",),),),),),),), HOUSE, [HOUSE], (HOUSE, 0), ("", ""), (0, 1), [True], WEB, (SLIDE,), SLIDE,
+    BOARD, DESK, (BOARD, [DESK]), errors.InvalidRow(0), [errors.NoRope("cord")],
 )
 
 
@@ -385,6 +391,28 @@ CALLS = {
     "cycle": ({"one": Map(2, ["b", "A"]), "row": "a"}, {"row": 2}),
     "windings_led": ({"one": GROW, "row": "aB", "many": 3}, {"row": 2}),
     "windings_rest": ({"one": GROW, "row": "aB", "many": 10 ** 15, "by": 7}, {"row": 2}),
+    "reading_rounds": ({"one": GROW, "house": HOUSE}, {}),
+    "led_at": ({"one": GROW, "house": HOUSE, "thing": 1, "row": "aB", "many": 10 ** 15}, {"row": 2}),
+    "home_times": ({"one": GROW, "house": HOUSE, "row": "a"}, {"row": 2}),
+    "many_rows": ({"posts": 2, "length": 3}, {}),
+    "row_at": ({"posts": 2, "length": 3, "number": 17}, {}),
+    "number_of": ({"posts": 2, "row": "abA"}, {"row": 2}),
+    "many_round": ({"posts": 3, "length": 2}, {}),
+    "many_classes": ({"posts": 3, "length": 2}, {}),
+    "many_roots": ({"posts": 3, "length": 2}, {}),
+    "many_falling": ({"posts": 2, "lot": "a", "length": 3}, {}),
+    "falling_at": ({"posts": 2, "lot": "a", "length": 3, "number": 2}, {}),
+    "falling_number": ({"posts": 2, "lot": "a", "row": "bAB"}, {"row": 2}),
+    "many_within": ({"web": EVENS, "length": 3}, {}),
+    "within_at": ({"web": EVENS, "length": 3, "number": 2}, {}),
+    "many_home": ({"house": HOUSE, "thing": 1, "length": 3}, {}),
+    "home_at": ({"house": HOUSE, "thing": 1, "length": 3, "number": 2}, {}),
+    "holds": ({"kind": "closed", "question": ("baa", "aab"), "value": "b"}, {}),
+    "wrong_sheets": ({"sheets": (("closed", ("baa", "aab"), "b"), ("closed", ("baa", "aab"), "a"))}, {}),
+    "sheet_back": ({"sheet": ("closed", ("baa", "aab"), "b")}, {}),
+    "sheet_on": ({"sheet": ("closed", ("baa", "aab"), "b"), "more": ("closed", ("aab", "aba"), "a")}, {}),
+    "knot_in": ({"sheet": ("tied", (("a",), "A"), ((0, True),)),
+                 "sheets": (("tied", (("b", "ba"), "a"), ((0, True), (1, False))),)}, {}),
 }
 
 

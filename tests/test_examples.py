@@ -17,10 +17,10 @@ class TestExamples(unittest.TestCase):
         self.assertEqual(result.attempted, many)
 
     def test_of_the_document(self):
-        self.assert_answers(os.path.join(HERE, "examples.txt"), 66)
+        self.assert_answers(os.path.join(HERE, "examples.txt"), 92)
 
     def test_of_the_readme(self):
-        self.assert_answers(os.path.join(os.path.dirname(HERE), "README.md"), 19)
+        self.assert_answers(os.path.join(os.path.dirname(HERE), "README.md"), 25)
 
 
 if __name__ == "__main__":

@@ -5,11 +5,14 @@ import inspect
 import unittest
 
 from ropesheld import errors
+from ropesheld.desk import Desk
 from ropesheld.houses import House
+from ropesheld.live import Live
 from ropesheld.maps import Map
 from ropesheld.rows import joined
 from ropesheld.webs import Web
-from tests.support import CALLS, HOUSE, MODULES, NO_STRINGS, SLIDE, WEB, all_lots, function_of, wrongs_of
+from tests.support import (
+    BOARD, CALLS, DESK, HOUSE, MODULES, NO_STRINGS, SLIDE, WEB, all_lots, function_of, wrongs_of)
 
 INTERFACE = {
     "rows": "reduced is_reduced turned joined times core windings without alike chain chain_holds",
@@ -43,14 +46,28 @@ INTERFACE = {
     "depths": "leading collected collected_row bracket term_house",
     "trains": "turns_in turn_led is_smooth train_lot is_train train_holds trouble",
     "grown": "tallies long long_rest sign_led growth cycle windings_led windings_rest",
+    "readings": "reading_rounds led_at home_times",
+    "counting": "many_rows row_at number_of many_round many_classes many_roots",
+    "fallcounts": "many_falling falling_at falling_number",
+    "webcounts": "many_within within_at many_home home_at",
+    "live": "Live",
+    "desk": "Desk",
+    "checker": "holds wrong_sheets sheet_back sheet_on knot_in",
 }
-CLASSES = {"House": House, "Web": Web, "Map": Map}
-OBJECTS = (HOUSE, WEB, SLIDE)
+CLASSES = {"House": House, "Web": Web, "Map": Map, "Live": Live, "Desk": Desk}
+OBJECTS = (HOUSE, WEB, SLIDE, BOARD, DESK)
 METHODS = {
     "House": {"__init__": ["swaps"], "read": ["text"], "__eq__": ["other"], "__str__": []},
     "Web": {"__init__": ["posts", "ropes"], "place_of": ["row"], "has": ["row"], "__eq__": ["other"]},
     "Map": {"__init__": ["posts", "rows"], "read": ["posts", "text"], "led": ["row"], "__eq__": ["other"],
             "__str__": []},
+    "Live": {"__init__": ["posts"], "read": ["text"], "laid": ["title"], "now": ["title"], "titles": [],
+             "lay": ["title", "row"], "splice": ["title", "one", "other"], "turn": ["title", "one"],
+             "cut": ["title", "rest", "many"], "drop": ["title"], "pull": ["post"], "put": ["post"], "bundles": [],
+             "fallen": [], "merging": ["one", "other"], "least_fall": ["title"],
+             "cheapest": ["one", "other", "prices"], "tied": ["title", "others"], "tying": ["title", "others"],
+             "undo": [], "within": ["work"], "__len__": [], "__str__": []},
+    "Desk": {"__init__": [], "say": ["command"]},
 }
 
 ROPE_ERRORS = {
@@ -157,7 +174,8 @@ class TestValues(unittest.TestCase):
                             "spots": ["leads"], "led_back": ["leads"], "same_leads": ["one", "other"],
                             "first_parted": ["one", "other"], "left_leads": ["leads"], "crossings": ["leads"],
                             "whole_rounds": ["leads"], "fall_together": ["rows"], "fall_together_holds": ["rows"],
-                            "collected_row": ["pairs"], "bracket": ["one", "other"]}.items():
+                            "collected_row": ["pairs"], "bracket": ["one", "other"], "wrong_sheets": ["sheets"],
+                            "knot_in": ["sheets"]}.items():
             given = CALLS[name][0]
             lists = {word: list(value) if word in words else value for word, value in given.items()}
             self.assertEqual(function_of(name)(**given), function_of(name)(**lists), name)
@@ -183,7 +201,8 @@ class TestValues(unittest.TestCase):
                  "fold_holds falls asks keeps_wish same_closed arm_holds commute all_hold tied_holds is_free "
                  "side_holds is_within same_side is_undone missed_holds is_shortest same_by_maps between_holds "
                  "is_free_part same_leads are_images leads_hold pairing_holds handle_pairs_hold handle_cut_holds "
-                 "square_rows_hold fall_together_holds plain_parts is_basic is_smooth is_train train_holds")
+                 "square_rows_hold fall_together_holds plain_parts is_basic is_smooth is_train train_holds "
+                 "holds")
         for name in names.split():
             self.assertIsInstance(function_of(name)(**CALLS[name][0]), bool, name)
             if "value" in CALLS[name][0]:
@@ -210,7 +229,8 @@ class TestValues(unittest.TestCase):
 
     def test_objects_are_not_iterable(self):
         for held in OBJECTS:
-            for wrong in (iter, list, tuple, len):
+            # Only a live board has a length.
+            for wrong in (iter, list, tuple, iter if held is BOARD else len):
                 with self.assertRaises(TypeError):
                     wrong(held)
             with self.assertRaises(TypeError):
