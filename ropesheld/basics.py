@@ -22,7 +22,7 @@ def basic_rows(posts, degree):
     found, row = [], posts[:1]
     # Each basic row of at most so many signs comes of the one ahead of it: that is repeated to the full length, the
     # last posts at the end go, and the next post stands for the last sign that is left.
-    while row and degree:
+    while row:
         if len(row) == degree:
             found.append(row)
         row = (row * degree)[:degree].rstrip(posts[-1])

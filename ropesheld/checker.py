@@ -76,7 +76,7 @@ def holds_missed(one, value):
 
 def holds_moved(one, other, value):
     """Whether any value is a pair of maps that undo one another, the first of which leads the one row to the other."""
-    if not is_row(one) or not is_row(other) or not isinstance(value, tuple) or len(value) != 2:
+    if not isinstance(value, tuple) or len(value) != 2:
         return False
     there, back = value
     if not isinstance(there, Map) or not isinstance(back, Map) or there.posts != back.posts:

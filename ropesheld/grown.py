@@ -104,7 +104,7 @@ def sign_at(word, number, grown):
 
 def goals_of(one):
     """For each post the list of the posts that come of it at some time behind."""
-    steps = [[at for at, many in enumerate(told) if many] for told in sign_table(one)]
+    steps = [[goal for goal, many in enumerate(told) if many] for told in sign_table(one)]
     found = []
     for step in steps:
         reached = list(step)

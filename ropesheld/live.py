@@ -25,8 +25,8 @@ class Live:
         return len(self.past)
 
     def __str__(self):
-        ropes = [f"rope {title} {word_of(self.ropes[title])}" for title in self.titles()]
-        return "\n".join([f"board {self.posts} {word_of(self.gone)}", *ropes])
+        first = [f"board {self.posts} {word_of(self.gone)}"]
+        return "\n".join(first + [f"rope {title} {word_of(self.ropes[title])}" for title in self.titles()])
 
     @staticmethod
     def read(text):
@@ -128,7 +128,8 @@ class Live:
         found = {}
         for title in self.titles():
             found.setdefault(self.now(title), []).append(title)
-        return tuple(sorted([tuple(titles) for titles in found.values()]))
+        # Titles are taken in order, so the bundles come by their first ones.
+        return tuple([tuple(titles) for titles in found.values()])
 
     def fallen(self):
         """The titles of the ropes whose row now is empty, ascending."""

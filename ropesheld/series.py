@@ -37,7 +37,7 @@ def term(row, plain):
     check_row(row)
     check_plain(plain)
     numbers = [1] + [0] * len(plain)
-    ends = {post: [at for at, sign in enumerate(plain, start=1) if sign == post] for post in POSTS}
+    ends = {post: [end for end, letter in enumerate(plain, start=1) if letter == post] for post in POSTS}
     for sign in row:
         if sign.islower():
             # Longer beginnings first: a sign stands for its post once at most.
@@ -105,10 +105,11 @@ def parting_depth(one, other):
 
 def parting_plain(one, other):
     """The least plain row whose numbers in the series of two rows are unlike, or None for alike rows."""
-    row = parted(one, other)
-    deep = depth(row)
-    # The other one's series begins with 1: so the series of both differ first as that of this row does from 1.
-    return None if deep is None else terms(row, deep)[0][0]
+    _, word = core(parted(one, other))
+    deep = depth(word)
+    # The other one's series begins with 1: so the series of both differ first as that of this row does from 1, and
+    # arms change nothing there.
+    return None if deep is None else terms(word, deep)[0][0]
 
 
 def plain_parts(one, other, value):

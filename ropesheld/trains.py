@@ -94,12 +94,13 @@ def train_holds(one, value):
         return False
     if any([is_dead(turn) for turn in value]):
         return False
-    return all([turn in value for turn in [*taken_turns(one), *[turn_led(one, turn) for turn in value]]])
+    needed = list(taken_turns(one)) + [turn_led(one, turn) for turn in value]
+    return all([turn in value for turn in needed])
 
 
 def is_turn(value, posts):
     """Whether any value is a turn of signs of so many posts."""
-    if not isinstance(value, tuple) or len(value) != 2 or not all([isinstance(sign, str) for sign in value]):
+    if not isinstance(value, tuple) or len(value) != 2:
         return False
     return all([sign in list(signs_of(posts)) for sign in value]) and value[0] <= value[1]
 

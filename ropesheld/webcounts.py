@@ -22,10 +22,10 @@ class Homecomings:
         """How many rows lead home, if it is told how many do with one sign less."""
         totals = [sum([less[goal, sign] for sign, goal in steps.items()]) for steps in self.goals]
         found = {}
-        for place, sign in less:
+        for place, last in less:
             # All go on from there but the one that turns back at once.
-            back = sign.swapcase()
-            found[place, sign] = totals[place] - less[self.goals[place][back], back]
+            back = last.swapcase()
+            found[place, last] = totals[place] - less[self.goals[place][back], back]
         return found
 
     def behind(self, row, left):

@@ -51,7 +51,8 @@ def nested(value, times):
 
 
 ANY = [*NO_STRINGS, *GOOD, "", "a", "ab", "alike", "tied", HOUSE, WEB, EVENS, SLIDE, FLIP, (HOUSE, 0), (HOUSE, True),
-       (FLIP, BACK), (FLIP, None), ("a", HOUSE), ((0, False),), ((0, 0),), ((-1, True),), (1, -1), (True,), nested("a", 8),
+       (FLIP, BACK), (FLIP, None), ("a", HOUSE), ((0, False),), ((0, 0),), ((-1, True),), (1, -1), (True,),
+       nested("a", 8),
        nested(0, 8), [[[[[[[["a"]]]]]]]], ("abB", ["a"]), (("a", "b"), "ab"), (("a", "b"), ("a", "b")), "abB" * 99]
 
 
@@ -68,13 +69,15 @@ def made_papers():
             ("unlike", (one, other), parting(2, one, other)),
             ("closed", (other + one + turned(other), one), some_arm(other + one + turned(other), one)),
             ("tied", (ropes, word), tied(2, ropes, word)), ("tied", (ropes, one), tied(2, ropes, one)),
-            ("untied", (ropes, one), side_house(2, ropes, one)), ("untied", (ropes[:1], "ab"), side_house(2, ropes[:1], "ab")),
+            ("untied", (ropes, one), side_house(2, ropes, one)),
+            ("untied", (ropes[:1], "ab"), side_house(2, ropes[:1], "ab")),
             ("handles", (commutator(one[:3], other[:2]),), handle_pairs(commutator(one[:3], other[:2]))),
             ("folds", (one[:3] + one[:3] + "bb",), square_rows(one[:3] + one[:3] + "bb")),
             ("together", ([one[:4], "b" + turned(one[:4]) + "B", "aA"],),
              fall_together([one[:4], "b" + turned(one[:4]) + "B", "aA"])),
             ("missed", (Map(2, [one[:6], other[:6]]),), missed(Map(2, [one[:6], other[:6]]))),
-            ("leads", (3, images(3, leads)), leads_for(images(3, leads))), ("leads", (3, images(3, leads)), tuple(leads)),
+            ("leads", (3, images(3, leads)), leads_for(images(3, leads))),
+            ("leads", (3, images(3, leads)), tuple(leads)),
         ]
         there = map_between(one[:5], FLIP.led(SLIDE.led(one[:5])), 2)
         found.append(("moved", (one[:5], FLIP.led(SLIDE.led(one[:5]))), (there, undone(there))))
@@ -129,7 +132,9 @@ class TestKinds(unittest.TestCase):
                                ("leads", (True, ("a",))), ("leads", (0, ())), ("leads", (3, ("a", "b"))),
                                ("leads", (2, ("aAa", "b"))), ("handles", (None,)), ("folds", ("a?",)),
                                ("together", ("a",)), ("together", (("a", None),)), ("missed", (HOUSE,)),
-                               ("moved", ("a", "i")), ("tied", ("a", "a")), ("untied", (("a", 1), "b"))):
+                               ("moved", ("a", "i")), ("tied", ("a", "a")), ("untied", (("a", 1), "b")),
+                               ("untied", (5, "a")), ("untied", ("a", "b")), ("untied", (("b",), None)),
+                               ("tied", (None, ""))):
             for value in [*ANY, ("a?", "a?"), ()]:
                 self.assertIs(holds(kind, question, value), False, (kind, question, value))
 
@@ -137,8 +142,10 @@ class TestKinds(unittest.TestCase):
         rows = all_rows(2, 2)
         for one, other in product(rows[::2], repeat=2):
             for value in ((one, other), (one,), (one, "", other), (other, one), [one, other], ()):
-                is_move = all(abs(len(x) - len(y)) == 2 and taken_out(x) == taken_out(y) for x, y in zip(value, value[1:]))
-                told = isinstance(value, tuple) and len(value) > 0 and (value[0], value[-1]) == (one, other) and is_move
+                told = isinstance(value, tuple) and len(value) > 0 and (value[0], value[-1]) == (one, other)
+                for x, y in zip(value, value[1:]):
+                    # Of rows of at most two signs, these are moves.
+                    told = told and abs(len(x) - len(y)) == 2 and taken_out(x) == taken_out(y)
                 self.assert_holds("alike", (one, other), value, told)
             for house in all_houses(2, 2):
                 told = told_goal(house, 0, one) != told_goal(house, 0, other)
@@ -186,7 +193,8 @@ class TestKinds(unittest.TestCase):
         rows = all_rows(2, 1)
         for u, v in product(rows, repeat=2):
             for row in ("abAB", "baBA", "", "aab", "aA", "BB"):
-                self.assert_holds("handles", (row,), ((u, v),), taken_out(u + v + turned(u) + turned(v)) == taken_out(row))
+                told = taken_out(u + v + turned(u) + turned(v)) == taken_out(row)
+                self.assert_holds("handles", (row,), ((u, v),), told)
                 self.assert_holds("folds", (row,), (u, v), taken_out(u + u + v + v) == taken_out(row))
                 for ropes in (("a", row), [row, "aab"]):
                     told = taken_out(u + ropes[0] + turned(u) + v + ropes[1] + turned(v)) == ""
@@ -207,6 +215,12 @@ class TestKinds(unittest.TestCase):
         self.assert_holds("missed", (Map(3, ["a", "b", "b"]),), ("c", House([[0, 1], [0, 1]])), False)
 
     def test_moved(self):
+        for value in ((None, FLIP), (FLIP, None), ("a", SLIDE), (FLIP,), (FLIP, BACK, BACK), [FLIP, BACK],
+                      (BACK, HOUSE)):
+            self.assert_holds("moved", ("a", "b"), value, False)
+        self.assert_holds("moved", ("a", "b"), (FLIP, BACK), True)
+        self.assert_holds("moved", ("a", "bcC"), (FLIP, BACK), False)
+        self.assert_holds("moved", ("acC", "b"), (FLIP, BACK), False)
         maps = [SLIDE, Map(2, ["aB", "b"]), FLIP, BACK, plain_map(2), TWICE, Map(3, ["a", "b", "c"]), Map(1, ["A"])]
         for there, back in product(maps, repeat=2):
             plain = tuple("abc"[:there.posts])
@@ -230,6 +244,9 @@ class TestKinds(unittest.TestCase):
             self.assert_holds("leads", (4, (*rows, "d")), leads, True)
         for value in ((0,), (3,), (-3,), (1, None), ("1",), (True,), (1, 1), (-1,), (), "1", (10 ** 20,)):
             self.assert_holds("leads", (3, images(3, (1,))), value, False)
+        for rows, told in ((("a", "b", "c"), True), (("aAa", "b", "c"), False), (("a", "b", "cCc"), False)):
+            self.assert_holds("leads", (3, rows), (1, 2, 1, -2, -1, -2), told)
+            self.assert_holds("leads", (3, rows), (-2, 1, 2, 1, -2, -1), told)
         self.assert_holds("leads", (1, ("a",)), (), True)
         self.assert_holds("leads", (1, ("A",)), (), False)
         self.assert_holds("leads", (1, ("a",)), (1,), False)
@@ -241,8 +258,8 @@ class TestLongPapers(unittest.TestCase):
         long = tuple(["ab" * 20 + "cC" * (at % 2) + "ba" for at in range(2001)])
         self.assertIs(holds("alike", (long[0], long[-1]), long), True)
         self.assertIs(holds("alike", (long[0], long[-1]), long[:999] + long[1000:]), False)
-        self.assertEqual(len(sheet_on(("alike", (long[0], long[-1]), long), ("alike", (long[-1], long[0]), long[::-1]))[2]),
-                         4001)
+        there, back = ("alike", (long[0], long[-1]), long), ("alike", (long[-1], long[0]), long[::-1])
+        self.assertEqual(len(sheet_on(there, back)[2]), 4001)
         ropes = [drawn_row(drawn, 4, 60) for _ in range(64)]
         knot = tuple((drawn(64), drawn(2) == 1) for _ in range(2000))
         row = taken_out("".join(turned(ropes[at]) if back else ropes[at] for at, back in knot))
@@ -299,7 +316,8 @@ class TestSheets(unittest.TestCase):
                 self.assertIs(holds(*told), True)
                 self.assertEqual(sheet_back(told), sheet)
         self.assertEqual(sheet_back(("closed", ("baa", "aab"), "aAb")), ("closed", ("aab", "baa"), "BaA"))
-        for value in [*ANY, ("alike", ("a", "b"), ("a", "b")), ("closed", ("baa", "aab"), "a"), ("alike", ("a", "a"), None),
+        for value in [*ANY, ("alike", ("a", "b"), ("a", "b")), ("closed", ("baa", "aab"), "a"),
+                      ("alike", ("a", "a"), None),
                       ("moved", ("a", "a"), (SLIDE, SLIDE)), ["alike", ("a", "a"), ("a",)], ("alike", ("a", "a")),
                       ("alike", ["a", "a"], ("a",)), ("moved", ("a", "a"), ("a", "a"))]:
             if value not in GOOD:
@@ -310,8 +328,9 @@ class TestSheets(unittest.TestCase):
                   (("abB", "a"), ("a", "aAa"), ("aAa", "a"), ("a", "a"), ("a", "bBa"), ("bBa", "aAa"), ("aAa", "abB"))]
         closed = [("closed", (one, other), some_arm(one, other)) for one, other in product(
             ("aab", "aba", "baa", "BaabB", "bbaaB", "aA", "", "ab"), repeat=2) if same_closed(one, other)]
-        moved = [("moved", (one, other), (there, back)) for there, back in
-                 ((SLIDE, undone(SLIDE)), (FLIP, BACK), (BACK, FLIP), (Map(3, ["a", "c", "b"]),) * 2, (Map(1, ["A"]),) * 2)
+        pairs = ((SLIDE, undone(SLIDE)), (FLIP, BACK), (BACK, FLIP), (Map(3, ["a", "c", "b"]),) * 2,
+                 (Map(1, ["A"]),) * 2)
+        moved = [("moved", (one, other), (there, back)) for there, back in pairs
                  for one, other in product(("a", "ab", "b", "aB", "B", "A", "aBbB", "bA"), repeat=2)
                  if holds("moved", (one, other), (there, back))]
         self.assertGreater(len(moved), 15)

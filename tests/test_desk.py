@@ -10,7 +10,8 @@ from tests.test_live import TITLES, Told, some_deed, state
 
 FORMS = {
     "board": "N", "lay": "TR", "splice": "TTT", "turn": "TT", "cut": "TTN", "drop": "T", "pull": "P", "put": "P",
-    "now": "T", "laid": "T", "bundles": "", "tied": "T", "tying": "T", "merge": "TT", "fall": "T", "text": "", "undo": "",
+    "now": "T", "laid": "T", "bundles": "", "tied": "T", "tying": "T", "merge": "TT", "fall": "T", "text": "",
+    "undo": "",
 }
 WORDS = {"T": "cord", "R": "ab", "N": "1", "P": "a"}
 
@@ -83,7 +84,8 @@ class TestAnswers(unittest.TestCase):
         self.assertIsInstance(first, Live)
         first.lay("cord", "ab")
         self.assertEqual(desk.say("now cord"), "ab")
-        self.assertEqual((desk.say("board 1"), str(first), str(desk.live)), ("1", "board 2 -\nrope cord ab", "board 1 -"))
+        self.assertEqual(desk.say("board 1"), "1")
+        self.assertEqual((str(first), str(desk.live)), ("board 2 -\nrope cord ab", "board 1 -"))
         self.assertIsNot(desk.live, first)
         self.assertEqual(desk.say(command="undo"), "nothing")
         self.assertIsNone(Desk().live)
@@ -123,9 +125,11 @@ class TestErrors(unittest.TestCase):
         wrong = [*NO_STRINGS, "", " ", "  ", "\n", "Board 2", "BOARD 2", "undo ", " undo", "undo\n", "\nundo", "un do",
                  "lay cord  ab", "lay  cord ab", "lay cord ab ", "now cord\n", "now\ncord", "now\tcord", "nowcord",
                  "board -1", "board 01", "board 1000", "board a", "board +1", "board 1.", "board 00", "board \u0661",
-                 "board 1 2", "cut cord new -1", "cut cord new 01", "cut cord new 1000", "cut cord new a", "cut cord new",
+                 "board 1 2", "cut cord new -1", "cut cord new 01", "cut cord new 1000", "cut cord new a",
+                 "cut cord new",
                  "cut cord new \u00b2", "cut cord 1 new", "cut nowhere ? x", "tied", "tying", "tied ", "tied cord ",
-                 "merge cord", "help", "-", "=", "lay", "live", "bundles ;", "text -", "least_fall cord", "merging cord line"]
+                 "merge cord", "help", "-", "=", "lay", "live", "bundles ;", "text -", "least_fall cord",
+                 "merging cord line"]
         for command in wrong:
             self.assert_error(command, InvalidCommand)
 

@@ -20,7 +20,7 @@ class TestExamples(unittest.TestCase):
         self.assert_answers(os.path.join(HERE, "examples.txt"), 92)
 
     def test_of_the_readme(self):
-        self.assert_answers(os.path.join(os.path.dirname(HERE), "README.md"), 25)
+        self.assert_answers(os.path.join(os.path.dirname(HERE), "README.md"), 26)
 
 
 if __name__ == "__main__":

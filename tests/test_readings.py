@@ -8,7 +8,8 @@ from ropesheld.maps import Map
 from ropesheld.readings import home_times, led_at, reading_rounds
 from tests.support import GROW, NO_STRINGS, all_houses, all_rows, draws, drawn_house, drawn_row, taken_out, told_goal
 
-PAIRS = [(one, house) for one in (GROW, Map(2, ["ab", "A"]), Map(2, ["", "ab"]), Map(2, ["b", "A"]), Map(2, ["aaB", "a"]))
+MAPS = (GROW, Map(2, ["ab", "A"]), Map(2, ["", "ab"]), Map(2, ["b", "A"]), Map(2, ["aaB", "a"]))
+PAIRS = [(one, house) for one in MAPS
          for house in all_houses(2, 3)[::3] + all_houses(2, 2)]
 PAIRS += [(one, house) for one in (Map(1, ["aa"]), Map(1, ["A"]), Map(1, ["aaa"]), Map(1, [""]))
           for house in all_houses(1, 4)[::2]]

@@ -107,7 +107,8 @@ class TestSheets(unittest.TestCase):
     def test_limits(self):
         for rows in (["aa", "aa", "AA", "AAbB"], ["abab", "AB", "AB"], ["aabbb", "AABBB"], ["ab", "aB", "Ab", "AABb"],
                      ["aba", "Abb", "AB", "ABaA"], ["a" * 5, "A" * 5], ["aaaaaa", "AA", "AA", "AA"],
-                     ["aab" + "c" * 20 + "d" + "C" * 20 + "BAA", "D"], ["abABab", "BAbaBA"], ["ab" * 3, "aB" * 3, "AA" * 3],
+                     ["aab" + "c" * 20 + "d" + "C" * 20 + "BAA", "D"], ["abABab", "BAbaBA"],
+                     ["ab" * 3, "aB" * 3, "AA" * 3],
                      ["aabb", "aBAb", "AABB"]):
             self.assert_told(rows)
         for rows in (["ab" * 150, "cd" * 150], ["ab" * 150] * 4, ["a" * 300, "A" * 299]):
